@@ -1,0 +1,76 @@
+"""Watching: which ready deals, and which one more, leave the own rule kept whatever yeses come."""
+
+from ownseen.cases import Case, case_of, first_break, lots_of, rooms_of
+from ownseen.checks import is_within
+from ownseen.errors import BadNumber
+from ownseen.guards import TOP_DEAL, want_few
+from ownseen.histories import ahead_of, waiting, want_history
+from ownseen.papers import Denial, Paper
+
+
+class Lets(Paper):
+    """For each closed lot of the deals that have, or may have, a yes its room."""
+
+    def __init__(self, rooms):
+        Paper.__init__(self, "lets", rooms)
+        self.rooms = self.parts[0]
+
+
+class Spoils(Denial):
+    """Ready deals, and an order that breaks the own rule if just these have their yes."""
+
+    def __init__(self, deals, order):
+        Denial.__init__(self, "spoils", deals, order)
+        self.deals = self.parts[0]
+        self.order = self.parts[1]
+
+
+def joined_lot(lot, other):
+    """The lot of the deals of both lots."""
+    return tuple(sorted(lot + other))
+
+
+def judged(case, ended, lots):
+    """The Lets of all rooms, or the Spoils of the first of the lots that is spoilt.
+
+    No ready deal is seen ahead of another one: so each lot is closed, with the ended
+    deals, and if some order sticks the last lot, which has all ready deals, is spoilt.
+    """
+    rooms = rooms_of(case)
+    if rooms is not None:
+        return Lets(rooms)
+    for lot in lots:
+        order = first_break(case, joined_lot(ended, lot))
+        if order is not None:
+            break
+    return Spoils(lot, order)
+
+
+def always(history):
+    """The Lets of all rooms if no lot of the ready deals is spoilt, or the Spoils of the first one."""
+    want_history(history)
+    deals = joined_lot(history.ended, history.readied)
+    want_few(deals)
+    return judged(case_of(history, deals), history.ended, lots_of(history.readied))
+
+
+def may_be_ready(history, deal):
+    """Whether any value is a deal that is open, not ready, and has nothing unanswered."""
+    if not is_within(deal, 0, TOP_DEAL) or deal not in history.opened:
+        return False
+    return deal not in history.readied and waiting(history, deal) is None
+
+
+def lets(history, deal):
+    """The Lets of all rooms if the deal is let, or the Spoils of the first lot with it."""
+    want_history(history)
+    if not may_be_ready(history, deal):
+        raise BadNumber("deal")
+    others = joined_lot(history.ended, history.readied)
+    deals = joined_lot(others, (deal,))
+    want_few(deals)
+    ahead = ahead_of(history, others)
+    # Its ready stands behind all yeses, whatever it saw until now.
+    ahead[deal] = history.ended
+    lots = [lot for lot in lots_of(joined_lot(history.readied, (deal,))) if deal in lot]
+    return judged(Case(history, deals, ahead), history.ended, lots)
