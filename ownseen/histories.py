@@ -57,14 +57,15 @@ def waiting(history, deal):
 def ahead_of(history, deals):
     """For each of some deals that are ready or ended the lot of those that are seen ahead of it."""
     yes_at = {}
-    last_at = {}
+    ready_at = {}
     for at, event in enumerate(history.events):
         if event[0] == "yes":
             yes_at[event[1]] = at
-        elif event[0] in ("answer", "ready"):
-            last_at[event[1]] = at
-    # A deal is ready ahead of its own yes, so none is seen ahead of itself.
-    return {deal: tuple([other for other in history.ended if yes_at[other] < last_at[deal]]) for deal in deals}
+        elif event[0] == "ready":
+            ready_at[event[1]] = at
+    # The ready of a deal stands behind all its answers and ahead of its own yes: it tells all
+    # that is seen ahead of the deal, and the deal itself is not among this.
+    return {deal: tuple([other for other in history.ended if yes_at[other] < ready_at[deal]]) for deal in deals}
 
 
 def seen_of(history):

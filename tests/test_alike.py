@@ -13,7 +13,7 @@ from ownseen.plays import reachable
 
 from tests.helper import (
     NO_NUMBERS, NO_OBJECTS, NO_ROWS, SeenTest, all_works, bends, can_all_pairs, great_kind, listed, lists_from,
-    made_kinds, play, some_kind, some_kinds, step, strict,
+    made_kinds, play, some_kinds, step, strict,
 )
 
 FOUR = Kind(["ask"], ["a", "b"], 4, 1, [(0, 0, 1, 0), (1, 0, 0, 2), (1, 0, 1, 3), (2, 0, 0, 2), (3, 0, 0, 3)])
@@ -140,6 +140,14 @@ class ShowsAlikeTest(SeenTest):
                 dice.shuffle(more)
                 self.assertIs(shows_alike(kind, one, other, Alike(listed(more))), True)
                 self.assertIs(shows_alike(kind, one, other, Alike(tuple(pairs[::-1] + pairs))), True)
+
+    def test_more_pairs_that_are_none_of_states(self):
+        for kind in KINDS[:40]:
+            right = can_as(kind, 0, 0).pairs
+            for wrong in ((kind.states, 0), (0, kind.states), (-1, 0), (0, -1), (10 ** 60, 0), (0, -10 ** 60)):
+                for rows in (right + (wrong,), (wrong,) + right):
+                    self.assertIs(shows_alike(kind, 0, 0, Alike(rows)), False)
+            self.assertIs(shows_alike(kind, 0, 0, Alike(right + right)), True)
 
     def test_other_lists_that_part(self):
         self.assertIs(shows_alike(FOUR, 1, 2, Parts([(0, 1)])), True)

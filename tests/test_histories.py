@@ -102,7 +102,6 @@ class HistoryTest(SeenTest):
 
     def test_attributes(self):
         told = History(COIN, ROW + [("ask", 7, 0), ("ask", 5, 0), ("answer", 5, 0), ("no", 9)])
-        self.assertIs(told.kind, told.kind)
         self.assertEqual(told.kind, COIN)
         self.assertEqual(told.deals, (0, 1, 2, 5, 7, 9, 11))
         self.assertEqual(told.ended, (0,))

@@ -110,7 +110,9 @@ class KindsTest(SeenTest):
         full = [(state, ask, 0, 0) for state in range(3) for ask in range(3)]
         Kind(["a", "b", "c"], ["x", "y"], 3, 0, full)
         for left in full:
-            rows = sorted([row for row in full if row != left] + [(1, 1, 1, 0)]) if left[:2] != (1, 1) else full[:4] + full[5:]
+            # As many rows as before: another ask has two answers.
+            more = (1, 1, 1, 0) if left != (1, 1, 0, 0) else (0, 0, 1, 0)
+            rows = sorted([row for row in full if row != left] + [more])
             self.assert_raises(BadKind("rows"), Kind, ["a", "b", "c"], ["x", "y"], 3, 0, rows)
 
     def test_600_rows_and_601(self):

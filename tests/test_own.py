@@ -102,7 +102,7 @@ class KeepsTest(SeenTest):
         dice = random.Random(62)
         kind = great_kind()
         works = {deal: [(dice.randrange(5), dice.randrange(2)) for _ in range(7)] for deal in range(7)}
-        history = History(kind, ended(works) + [("no", 11)] * 1)
+        history = History(kind, ended(works) + [("no", 11)])
         told = self.assert_short(keeps, history)
         self.assertEqual(len(told.rooms), 128)
         states = {plain_left(kind, history.events, order) for order in dice.sample(list(permutations(range(7))), 60)}

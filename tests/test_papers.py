@@ -48,6 +48,7 @@ class PapersTest(unittest.TestCase):
             self.assertEqual((paper.word, paper.parts), ("note", ((1, (2, (3,))), ())))
             self.assertEqual(made("note").parts, ())
             self.assertEqual(made(word="note").word, "note")
+            self.assertEqual(made(["note"]).word, ("note",))
         parts[1][1].append(4)
         self.assertEqual(paper.parts, ((1, (2, (3,))), ()))
 
@@ -93,7 +94,7 @@ class PapersTest(unittest.TestCase):
         self.assertNotEqual(Paper("note"), Denial("note"))
         self.assertNotEqual(Denial("note"), Paper("note"))
         self.assertEqual(Paper("note", [1]), Paper("note", [True]))
-        for made, word, fields, denial in CLASSES:
+        for made, word, fields, _ in CLASSES:
             parts = [[1, [2]]] * len(fields)
             self.assertIs(made(*parts) == made(*fixed(parts)), True)
             self.assertIs(made(*parts) != made(*fixed(parts)), False)
@@ -104,6 +105,12 @@ class PapersTest(unittest.TestCase):
             for other in CLASSES:
                 if other[0] is not made:
                     self.assertNotEqual(made(*parts), other[0](*[[1, [2]]] * len(other[2])))
+
+    def test_a_class_of_another_package_by_the_same_name(self):
+        class Foreign:
+            word, parts = "fits", ((),)
+        Foreign.__name__ = "Fits"
+        self.assertIs(Fits([]) == Foreign(), False)
 
     def test_no_paper_equals_another_value(self):
         for value in (None, True, False, 0, "fits", (), ("fits", ((),)), {}, object(), Fits):

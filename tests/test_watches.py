@@ -7,8 +7,7 @@ from ownseen.errors import BadNumber, BadValue, TooMany
 from ownseen.histories import History
 from ownseen.kinds import Kind
 from ownseen.makers import chest, counter, line, purse, shelf
-from ownseen.own import Breaks, Keeps, keeps
-from ownseen.papers import Paper
+from ownseen.own import Keeps, keeps
 from ownseen.watches import Lets, Spoils, always, lets
 from ownseen.weaves import Weave
 
@@ -131,7 +130,6 @@ class WatchesTest(SeenTest):
             self.assertIs(bool(lets(taken, 2)), False)
 
     def test_houses_that_let_always_keep(self):
-        dice = random.Random(74)
         for kind, events in HISTORIES[:200]:
             kept, off = [], {}
             for event in events:
