@@ -34,6 +34,11 @@ def stuck_at(boards, order):
     return None
 
 
+def is_stuck(board, order):
+    """Whether the order of some deals cannot be played at the one house."""
+    return stuck_at([board], order) is not None
+
+
 def order_behind(boards, deals, done, states, bars):
     """The least order of the deals that fits and begins with those done, None if there is none.
 

@@ -12,9 +12,10 @@ class Case:
     def __init__(self, history, deals, ahead):
         self.deals = deals
         self.ahead = ahead
-        board = Board(history.kind, history.works, deals)
-        self.first = board.first
-        self.leads = board.leads
+        self.states = history.kind.states
+        self.board = Board(history.kind, history.works, deals)
+        self.first = self.board.first
+        self.leads = self.board.leads
 
 
 def case_of(history, deals):
@@ -38,12 +39,16 @@ def closed_of(case):
     return tuple([lot for lot in lots_of(case.deals) if is_closed(case, lot)])
 
 
+def without(lot, deal):
+    """The lot without the deal."""
+    return tuple([other for other in lot if other != deal])
+
+
 def room_of(case, rooms, lot):
     """The room of a closed lot, by those of the lots with one deal less; None if a deal sticks."""
     room = set()
     for deal in lot:
-        rest = tuple([other for other in lot if other != deal])
-        for state in rooms.get(rest, ()):
+        for state in rooms.get(without(lot, deal), ()):
             to = case.leads[deal][state]
             if to is None:
                 return None
@@ -62,19 +67,16 @@ def rooms_of(case):
     return tuple(rooms.items())
 
 
-def next_of(case, lot, done):
-    """The deals of the closed lot that can come next behind those done."""
-    return [
-        deal for deal in lot
-        if deal not in done and all([other in done for other in case.ahead[deal]])
-    ]
+def next_of(ahead, lot, done):
+    """The deals of the lot that can come next behind those done; ahead tells what is seen ahead of each."""
+    return [deal for deal in lot if deal not in done and all([other in done for other in ahead[deal]])]
 
 
-def completed_least(case, lot, done):
-    """The least order of the closed lot that begins with those done."""
+def least_order(ahead, lot, done):
+    """The least order of the lot that begins with those done and holds what is seen."""
     order = done
     while len(order) < len(lot):
-        order = order + (next_of(case, lot, order)[0],)
+        order = order + (next_of(ahead, lot, order)[0],)
     return order
 
 
@@ -86,10 +88,10 @@ def break_behind(case, lot, done, state, sound):
     place = (tuple(sorted(done)), state)
     if place in sound:
         return None
-    for deal in next_of(case, lot, done):
+    for deal in next_of(case.ahead, lot, done):
         order = done + (deal,)
         to = case.leads[deal][state]
-        found = completed_least(case, lot, order)
+        found = least_order(case.ahead, lot, order)
         if to is not None:
             found = break_behind(case, lot, order, to, sound)
         if found is not None:

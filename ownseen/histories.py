@@ -54,15 +54,15 @@ def waiting(history, deal):
     return ask
 
 
+def places_of(history, word):
+    """For each deal that has a ready, a yes or a no, as the word tells, the index of this event."""
+    return {event[1]: at for at, event in enumerate(history.events) if event[0] == word}
+
+
 def ahead_of(history, deals):
     """For each of some deals that are ready or ended the lot of those that are seen ahead of it."""
-    yes_at = {}
-    ready_at = {}
-    for at, event in enumerate(history.events):
-        if event[0] == "yes":
-            yes_at[event[1]] = at
-        elif event[0] == "ready":
-            ready_at[event[1]] = at
+    yes_at = places_of(history, "yes")
+    ready_at = places_of(history, "ready")
     # The ready of a deal stands behind all its answers and ahead of its own yes: it tells all
     # that is seen ahead of the deal, and the deal itself is not among this.
     return {deal: tuple([other for other in history.ended if yes_at[other] < ready_at[deal]]) for deal in deals}

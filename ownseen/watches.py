@@ -30,15 +30,12 @@ def joined_lot(lot, other):
     return tuple(sorted(lot + other))
 
 
-def judged(case, ended, lots):
-    """The Lets of all rooms, or the Spoils of the first of the lots that is spoilt.
+def spoilt_first(case, ended, lots):
+    """The Spoils of the first of the lots that is spoilt, if some order of the case sticks.
 
     No ready deal is seen ahead of another one: so each lot is closed, with the ended
     deals, and if some order sticks the last lot, which has all ready deals, is spoilt.
     """
-    rooms = rooms_of(case)
-    if rooms is not None:
-        return Lets(rooms)
     for lot in lots:
         order = first_break(case, joined_lot(ended, lot))
         if order is not None:
@@ -46,12 +43,19 @@ def judged(case, ended, lots):
     return Spoils(lot, order)
 
 
-def always(history):
-    """The Lets of all rooms if no lot of the ready deals is spoilt, or the Spoils of the first one."""
+def always_case(history):
+    """The case of all ended and ready deals."""
     want_history(history)
     deals = joined_lot(history.ended, history.readied)
     want_few(deals)
-    return judged(case_of(history, deals), history.ended, lots_of(history.readied))
+    return case_of(history, deals)
+
+
+def always(history):
+    """The Lets of all rooms if no lot of the ready deals is spoilt, or the Spoils of the first one."""
+    case = always_case(history)
+    rooms = rooms_of(case)
+    return spoilt_first(case, history.ended, lots_of(history.readied)) if rooms is None else Lets(rooms)
 
 
 def may_be_ready(history, deal):
@@ -61,16 +65,41 @@ def may_be_ready(history, deal):
     return deal not in history.readied and waiting(history, deal) is None
 
 
-def lets(history, deal):
-    """The Lets of all rooms if the deal is let, or the Spoils of the first lot with it."""
-    want_history(history)
+def want_open(history, deal):
+    """Raises BadNumber for any value but a deal that may be ready."""
     if not may_be_ready(history, deal):
         raise BadNumber("deal")
-    others = joined_lot(history.ended, history.readied)
-    deals = joined_lot(others, (deal,))
-    want_few(deals)
-    ahead = ahead_of(history, others)
+
+
+def deals_with(history, deal):
+    """The lot of the ended and the ready deals, and this one."""
+    return joined_lot(joined_lot(history.ended, history.readied), (deal,))
+
+
+def lots_with(history, deal):
+    """All lots of the ready deals and this one that have it, shorter ones first, then ascending."""
+    return [lot for lot in lots_of(joined_lot(history.readied, (deal,))) if deal in lot]
+
+
+def ahead_with(history, deal):
+    """What is seen ahead of each ended and ready deal, and of this one when its ready is put behind."""
+    ahead = ahead_of(history, joined_lot(history.ended, history.readied))
     # Its ready stands behind all yeses, whatever it saw until now.
     ahead[deal] = history.ended
-    lots = [lot for lot in lots_of(joined_lot(history.readied, (deal,))) if deal in lot]
-    return judged(Case(history, deals, ahead), history.ended, lots)
+    return ahead
+
+
+def lets_case(history, deal):
+    """The case of all ended and ready deals, and of this one with its ready put behind."""
+    want_history(history)
+    want_open(history, deal)
+    deals = deals_with(history, deal)
+    want_few(deals)
+    return Case(history, deals, ahead_with(history, deal))
+
+
+def lets(history, deal):
+    """The Lets of all rooms if the deal is let, or the Spoils of the first lot with it."""
+    case = lets_case(history, deal)
+    rooms = rooms_of(case)
+    return spoilt_first(case, history.ended, lots_with(history, deal)) if rooms is None else Lets(rooms)

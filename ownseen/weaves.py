@@ -78,6 +78,16 @@ def at(weave, house):
     return History(weave.kinds[house], events)
 
 
+def is_told(weave):
+    """Whether at tells a history for each house."""
+    return all([len(events_at(weave, house)) <= MOST_EVENTS for house in range(len(weave.kinds))])
+
+
+def histories_of(weave):
+    """The histories that the weave is at its houses."""
+    return [at(weave, house) for house in range(len(weave.kinds))]
+
+
 def last_order(weave):
     """The ended deals by their last readies, at whatever house."""
     want_weave(weave)

@@ -66,7 +66,7 @@ def listed(value):
 
 
 def bends(value):
-    """The value, of tuples and integers, bent in one place, in many ways."""
+    """The value, of tuples, integers and words, bent in one place, in many ways."""
     if isinstance(value, (list, tuple)):
         rows = list(value)
         for at, one in enumerate(rows):
@@ -79,6 +79,8 @@ def bends(value):
         for extra in ((), 0, [0], None):
             yield rows + [extra]
         yield from (None, 0, True, "", {}, {0: 1}, 1.5)
+    elif isinstance(value, str):
+        yield from (value + "s", value[1:], value.upper(), "", None, 0, True, [value], value.encode())
     else:
         yield from (value + 1, value - 1, bool(value), None, str(value), float(value), [value], ())
 
@@ -423,3 +425,351 @@ def plain_rooms(kind, events):
         states = {plain_left(kind, events, order) for order in permutations(lot) if plain_holds(events, order)}
         rooms.append((lot, tuple(sorted(states))))
     return tuple(rooms)
+
+
+# Papers, looked at by the test itself.
+
+def is_plain_lot(value, many):
+    """Whether it is a lot of numbers below many."""
+    if not isinstance(value, (list, tuple)) or not all(type(one) is int and 0 <= one < many for one in value):
+        return False
+    return list(value) == sorted(set(value))
+
+
+def is_plain_order(value, deals):
+    """Whether it is a row of these deals, each once."""
+    return strict(value) in [strict(order) for order in permutations(deals)]
+
+
+def is_plain_break(kind, events, order):
+    """Whether any value is an order of all ended deals that holds what is seen and does not fit."""
+    if not is_plain_order(order, deals_with(events, "yes")):
+        return False
+    return plain_holds(events, list(order)) and plain_left(kind, events, order) is None
+
+
+def are_plain_rooms(kind, events, closed, rooms):
+    """Whether any value has a lot of states for each of the closed lots, out of which no deal leads, or sticks."""
+    if not isinstance(rooms, (list, tuple)) or len(rooms) != len(closed):
+        return False
+    for lot, row in zip(closed, rooms):
+        if not isinstance(row, (list, tuple)) or len(row) != 2 or strict(row[0]) != strict(lot):
+            return False
+        if not is_plain_lot(row[1], kind.states):
+            return False
+    told = {tuple(lot): room for lot, room in rooms}
+    for lot in closed:
+        for deal in lot:
+            for state in told.get(tuple(other for other in lot if other != deal), ()):
+                if play(kind, state, works_by(events, deal)) not in told[lot]:
+                    return False
+    return kind.first in told[()]
+
+
+def wider(dice, rooms, states):
+    """The pairs of lots, each second one with some more states."""
+    return [(lot, sorted(set(room) | {state for state in range(states) if dice.random() < 0.3})) for lot, room in rooms]
+
+
+# Stamps.
+
+GREAT = 10 ** 50 - 1
+
+
+def some_stamps(dice, many):
+    """So many unlike integers: small ones, or ones of fifty digits, of either sign."""
+    reach = dice.choice((many + 1, 30, GREAT))
+    stamps = {}
+    while len(stamps) < many:
+        stamps[dice.randint(-reach, reach)] = True
+    rows = list(stamps)
+    dice.shuffle(rows)
+    return rows
+
+
+def late_stamps(dice, seen, deals):
+    """Stamps of these deals, in their order, that hold what is seen."""
+    stamps, left, told = sorted(some_stamps(dice, len(deals))), list(deals), {}
+    for stamp in stamps:
+        deal = dice.choice([deal for deal in left if not any(other == deal and one in left for one, other in seen)])
+        left.remove(deal)
+        told[deal] = stamp
+    return [told[deal] for deal in deals]
+
+
+def stamped_rows(seed, histories, late=0.5):
+    """Triples (kind, events, stamps), the stamps of all deals that occur, ascending."""
+    dice = random.Random(seed)
+    told = []
+    for kind, events in histories:
+        deals = sorted({event[1] for event in events})
+        stamps = late_stamps(dice, seen_pairs(events), deals) if dice.random() < late else some_stamps(dice, len(deals))
+        told.append((kind, events, stamps))
+    return told
+
+
+def by_deals(events, stamps):
+    """For each deal of the events its stamp."""
+    return dict(zip(sorted({event[1] for event in events}), stamps))
+
+
+def plain_by_stamps(deals, by_deal):
+    """The deals, lesser stamps first, by looking for the least one again and again."""
+    left, order = list(deals), []
+    while left:
+        least = left[0]
+        for deal in left:
+            if by_deal[deal] < by_deal[least]:
+                least = deal
+        left.remove(least)
+        order.append(least)
+    return tuple(order)
+
+
+def ready_deals(events):
+    """The deals that are open and ready."""
+    return tuple(deal for deal in deals_with(events, "ready") if deal not in deals_with(events, "yes") + deals_with(events, "no"))
+
+
+def free_deals(events):
+    """The deals that are open, not ready, and have nothing unanswered."""
+    found = []
+    for deal in sorted({event[1] for event in events}):
+        words = [event[0] for event in events if event[1] == deal]
+        if not {"ready", "yes", "no"} & set(words) and words[-1] != "ask":
+            found.append(deal)
+    return found
+
+
+def opened_some(dice, events):
+    """The events, some yeses left out, and one deal open and not ready where there is one."""
+    events = [event for event in events if event[0] != "yes" or dice.random() < 0.5]
+    some = dice.choice(sorted({event[1] for event in events}) or [0])
+    return [event for event in events if event[1] != some or event[0] not in ("ready", "yes", "no")]
+
+
+def lots_with(events, deal):
+    """All lots of the ready deals and this one that have it."""
+    return [lot for lot in plain_lots(tuple(sorted(ready_deals(events) + (deal,)))) if deal in lot]
+
+
+def early_spoilt(kind, events, by_deal, deal):
+    """The first lot, and its order by stamps, that does not fit in the early world; None if the deal is let."""
+    for lot in lots_with(events, deal):
+        order = plain_by_stamps(deals_with(events, "yes") + lot, by_deal)
+        if plain_left(kind, events, order) is None:
+            return lot, order
+    return None
+
+
+def early_states(kind, events, by_deal, deal):
+    """For each number of deals the states that the first so many leave, over all lots."""
+    ended, lots = deals_with(events, "yes"), lots_with(events, deal)
+    row = plain_by_stamps(ended + lots[-1], by_deal)
+    return tuple(
+        tuple(sorted({plain_left(kind, events, [told for told in row[:many] if told in ended + lot]) for lot in lots}))
+        for many in range(len(row) + 1)
+    )
+
+
+def late_orders(events, by_deal, deal, lot):
+    """All orders of the ended deals and a lot that the late world allows, the deal's ready put behind."""
+    ended = deals_with(events, "yes")
+    behind = events + [("ready", deal)] + [("yes", told) for told in lot]
+    return [
+        order for order in permutations(sorted(ended + lot))
+        if plain_holds(behind, order) and tuple(told for told in order if told in ended) == plain_by_stamps(ended, by_deal)
+    ]
+
+
+def late_spoilt(kind, events, by_deal, deal):
+    """The first lot, and the least order of it, that does not fit in the late world; None if the deal is let."""
+    for lot in lots_with(events, deal):
+        for order in late_orders(events, by_deal, deal, lot):
+            if plain_left(kind, events, order) is None:
+                return lot, order
+    return None
+
+
+def late_closed(events, by_deal, deal):
+    """The lots that are closed by stamps."""
+    ended, ready = deals_with(events, "yes"), lots_with(events, deal)[-1]
+    seen = seen_pairs(events + [("ready", deal)] + [("yes", told) for told in ready])
+    pairs = [(one, other) for one in ended for other in ended if by_deal[one] < by_deal[other]] + list(seen)
+    return [lot for lot in plain_lots(tuple(sorted(ended + ready)))
+            if all(one in lot for one, other in pairs if other in lot)]
+
+
+def late_states(kind, events, by_deal, deal):
+    """For each lot closed by stamps the pair of it and of the states that its orders leave."""
+    ended, ready = deals_with(events, "yes"), lots_with(events, deal)[-1]
+    whole = late_orders(events, by_deal, deal, ready)
+    return tuple(
+        (lot, tuple(sorted({plain_left(kind, events, order[:len(lot)]) for order in whole if set(order[:len(lot)]) == set(lot)})))
+        for lot in late_closed(events, by_deal, deal)
+    )
+
+
+def right_along(kind, events, by_deal, spoilt):
+    """Whether each ready deal was let when its ready came; spoilt tells what is not let."""
+    return all(
+        spoilt(kind, events[:at], by_deal, event[1]) is None for at, event in enumerate(events) if event[0] == "ready"
+    )
+
+
+# Operations that are turned round, and logs.
+
+def plain_reachable(kind):
+    """The states that can be reached, by going on until nothing is new."""
+    found = {kind.first}
+    while True:
+        more = found | {row[3] for row in kind.rows if row[0] in found}
+        if more == found:
+            return tuple(sorted(found))
+        found = more
+
+
+def pairs_on(kind, pairs):
+    """The pairs, and all to which an operation leads from both of one, ascending."""
+    pairs = set(pairs)
+    while True:
+        more = {(step(kind, one, work), step(kind, other, work)) for one, other in pairs for work in all_works(kind)}
+        more = pairs | {pair for pair in more if None not in pair}
+        if more == pairs:
+            return tuple(sorted(pairs))
+        pairs = more
+
+
+def back_pairs(kind, new, held, states):
+    """For each of the states from which held, new can be played, the states behind both ways round."""
+    told = [(play(kind, state, (held, new)), play(kind, state, (new, held))) for state in states]
+    return [pair for pair in told if pair[0] is not None]
+
+
+def beside_pairs(kind, one, other, states):
+    """For each of the states from which both are possible, the states behind both ways round, and turned round."""
+    told = [
+        (play(kind, state, (one, other)), play(kind, state, (other, one))) for state in states
+        if step(kind, state, one) is not None and step(kind, state, other) is not None
+    ]
+    return told + [pair[::-1] for pair in told]
+
+
+def plain_clash(kind, way, new, held, can_all):
+    """Whether a table must have the pair; can_all has the pairs of which the other can all that the one can."""
+    pairs = back_pairs if way == "in place" else beside_pairs
+    return not all(pair in can_all for pair in pairs(kind, new, held, plain_reachable(kind)))
+
+
+def plain_table(kind, way):
+    """All pairs of operations that a table must have, ascending."""
+    can_all = can_all_pairs(kind)
+    return tuple((new, held) for new in all_works(kind) for held in all_works(kind) if plain_clash(kind, way, new, held, can_all))
+
+
+def chain(states):
+    """A kind that goes up from 0, and tells when it is at its end."""
+    return Kind(["go"], ["ok", "end"], states, 0, [
+        (state, 0, 0, state + 1) if state < states - 1 else (state, 0, 1, state) for state in range(states)
+    ])
+
+
+def two_chains(states):
+    """Two sides, a and b, which only the end of a way of so many states tells; each side can be set again."""
+    rows = []
+    for side in (0, 1):
+        for place in range(states):
+            state = side * states + place
+            rows += [(state, 0, 0, 0), (state, 1, 0, states)]
+            rows.append((state, 2, 0, state + 1) if place < states - 1 else (state, 2, 1 + side, state))
+    return Kind(["a", "b", "go"], ["ok", "ina", "inb"], 2 * states, 0, sorted(rows))
+
+
+def events_of_log(log):
+    """The history of a log, event by event."""
+    events = []
+    for record in log:
+        if record[0] == "do":
+            events += [("ask", record[1], record[2]), ("answer", record[1], record[3])]
+        else:
+            events.append(tuple(record))
+    return events
+
+
+def log_stands(kind, log):
+    """Whether the records, of the right forms, are a log."""
+    events = events_of_log(log)
+    return all(history_stands(kind, events[:place], event) for place, event in enumerate(events))
+
+
+def deals_of_log(log, word):
+    """The deals with such a record, in the order of these."""
+    return [record[1] for record in log if record[0] == word]
+
+
+def plain_view(kind, way, log, deal):
+    """The view of a deal, None if there is none."""
+    off = deals_of_log(log, "no")
+    if way == "in place":
+        return play(kind, kind.first, [record[2:] for record in log if record[0] == "do" and record[1] not in off])
+    works = [record[2:] for told in deals_of_log(log, "yes") + [deal] for record in log if record[:2] == ("do", told)]
+    return play(kind, kind.first, works)
+
+
+def plain_may_answer(kind, way, table, log, deal, work):
+    """Whether the answer may be given."""
+    view = plain_view(kind, way, log, deal)
+    if view is None or step(kind, view, work) is None:
+        return False
+    over = deals_of_log(log, "yes") + deals_of_log(log, "no")
+    held = [record[2:] for record in log if record[0] == "do" and record[1] != deal and record[1] not in over]
+    return way == "watched" or not any((work, other) in table for other in held)
+
+
+def plain_let(kind, events, deal):
+    """Whether the deal is let by the own rule."""
+    behind = events + [("ready", deal)]
+    return all(
+        plain_break(kind, behind + [("yes", told) for told in lot]) is None
+        for lot in plain_lots(ready_deals(behind)) if deal in lot
+    )
+
+
+def plain_may_ready(kind, way, log, deal):
+    """Whether a ready of the deal may be told."""
+    if way != "watched":
+        return True
+    events = events_of_log(log)
+    many = len(deals_with(events, "yes")) + len(ready_deals(events))
+    return deal in {event[1] for event in events} and many < 7 and plain_let(kind, events, deal)
+
+
+def plain_stray(kind, way, table, log):
+    """The index of the first record that may not stand where it stands, None without one."""
+    for place, record in enumerate(log):
+        ahead = log[:place]
+        if record[0] == "do" and not plain_may_answer(kind, way, table, ahead, record[1], record[2:]):
+            return place
+        if record[0] == "ready" and not plain_may_ready(kind, way, ahead, record[1]):
+            return place
+    return None
+
+
+def some_log(dice, kind, deals, many, way="", table=(), strays=1.0):
+    """Records that stand, so many at most; those that may not be told by the way stay only now and then."""
+    log = []
+    for _ in range(many * 3):
+        word, deal = dice.choice(("do", "do", "do", "ready", "yes", "yes", "no")), dice.choice(deals)
+        if word == "no" and dice.random() < 0.7:
+            continue
+        record = (word, deal)
+        if word == "do":
+            record = (word, deal, dice.randrange(len(kind.asks)), dice.randrange(len(kind.answers)))
+            view = plain_view(kind, way or "in place", log, deal)
+            if view is not None and dice.random() < 0.9:
+                record = (word, deal) + dice.choice([row[1:3] for row in kind.rows if row[0] == view])
+        if len(log) < many and log_stands(kind, log + [record]):
+            if way and plain_stray(kind, way, table, log + [record]) is not None and dice.random() > strays:
+                continue
+            log.append(record)
+    return log

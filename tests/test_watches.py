@@ -13,7 +13,7 @@ from ownseen.weaves import Weave
 
 from tests.helper import (
     NO_NUMBERS, NO_OBJECTS, SeenTest, deals_with, ended, great_kind, plain_break, plain_left, plain_lots, plain_rooms,
-    some_histories, strict,
+    ready_deals, some_histories, strict,
 )
 
 COIN = Kind(["take"], ["done", "short"], 2, 1, [(0, 0, 1, 0), (1, 0, 0, 0)])
@@ -23,10 +23,6 @@ HISTORIES = some_histories(71, 400, deals=(0, 1, 2, 5, 7, 11), kinds=(COIN, shel
 def opened(dice, events):
     """The events without some of their yeses, nothing else of these deals being behind them."""
     return [event for event in events if event[0] != "yes" or dice.random() < 0.5]
-
-
-def ready_deals(events):
-    return tuple(deal for deal in deals_with(events, "ready") if deal not in deals_with(events, "yes") + deals_with(events, "no"))
 
 
 def plain_judged(kind, events, lots):
