@@ -13,21 +13,19 @@ def shows_alike(kind, one, other, value):
     want_number(one, kind.states, "one")
     want_number(other, kind.states, "other")
     if isinstance(value, Alike):
-        return shows_pairs(kind, one, other, value.pairs)
+        return are_carried(kind, value.pairs) and (one, other) in value.pairs
     if isinstance(value, Parts):
         return shows_parting(kind, one, other, value.operations)
     return False
 
 
-def shows_pairs(kind, one, other, pairs):
-    """Whether they are pairs of states, this one among them, out of which no operation leads."""
+def are_carried(kind, pairs):
+    """Whether any value has pairs of states, out of which no operation of the one of a pair leads."""
     if not are_pairs(pairs):
         return False
     if not all([is_within(state, 0, kind.states - 1) for pair in pairs for state in pair]):
         return False
     among = set(pairs)
-    if (one, other) not in among:
-        return False
     for pair in pairs:
         for work in kind.offers[pair[0]]:
             if (led(kind, pair[0], [work]), led(kind, pair[1], [work])) not in among:

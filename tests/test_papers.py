@@ -3,9 +3,16 @@
 import unittest
 
 from ownseen.alike import Alike, Parts
+from ownseen.clashes import Goes, Jars, Sticks
+from ownseen.earlies import Apart, EarlyLets
+from ownseen.joins import Lax, Ring
+from ownseen.lates import LateLets
 from ownseen.orders import Bars, Fits
 from ownseen.own import Breaks, Keeps
 from ownseen.papers import Denial, Paper, fixed
+from ownseen.stairs import StampTorn
+from ownseen.tables import Enough, Lacks
+from ownseen.torn import Core, Torn
 from ownseen.watches import Lets, Spoils
 
 # For each class its word, its parts, and whether it is a denial.
@@ -18,6 +25,19 @@ CLASSES = (
     (Breaks, "breaks", ("order",), True),
     (Lets, "lets", ("rooms",), False),
     (Spoils, "spoils", ("deals", "order"), True),
+    (Torn, "torn", ("weave",), False),
+    (Core, "core", ("deals", "weave", "papers"), False),
+    (Lax, "lax", ("house", "order"), True),
+    (Ring, "ring", ("deals", "houses"), True),
+    (StampTorn, "stamptorn", ("weave", "stamps"), False),
+    (EarlyLets, "earlylets", ("rooms",), False),
+    (Apart, "apart", ("weave",), False),
+    (LateLets, "latelets", ("rooms",), False),
+    (Goes, "goes", ("places", "pairs"), False),
+    (Sticks, "sticks", ("before", "behind"), True),
+    (Jars, "jars", ("before", "first", "second", "behind"), True),
+    (Enough, "enough", ("places", "pairs"), False),
+    (Lacks, "lacks", ("log",), True),
 )
 VALUES = ([1, (2, [3])], None, "word", True, {"a": [1]}, 7, [], ([[]],), object())
 
