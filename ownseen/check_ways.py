@@ -71,7 +71,8 @@ def is_jarring(kind, value, pair):
     if not are_both(kind, value, pair) or not are_operations(kind, value.before) or not are_operations(kind, behind):
         return False
     state = led(kind, kind.first, value.before)
-    if state is None or led(kind, state, [first]) is None or led(kind, state, [second]) is None:
+    # From no state, None, nothing is possible.
+    if led(kind, state, [first]) is None or led(kind, state, [second]) is None:
         return False
     if led(kind, state, (first, second, *behind)) is not None:
         return False

@@ -61,7 +61,7 @@ def worst_of(kind, rows):
     for row in rows:
         if does_clash(row, steps):
             state, pair, sound, failing = row
-            behind = () if failing is None else gap_of(kind, steps, sound, failing)
+            behind = gap_of(kind, steps, sound, failing)
             found.append((len(ways[state]) + len(behind), (ways[state], pair, behind)))
     return min(found)[1] if found else None
 

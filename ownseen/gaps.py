@@ -46,7 +46,7 @@ def gap_steps(kind, pairs):
 
 
 def gap_of(kind, steps, one, other):
-    """The least gap of a pair that has one, by the first operations of the gaps."""
+    """The least gap of a pair that has one, by the first operations of the gaps; () where other is None."""
     gap = []
     while other is not None:
         work = steps[(one, other)]

@@ -6,10 +6,10 @@ from ownseen.guards import want_deal
 from ownseen.histories import History, places_of
 from ownseen.kinds import want_kind
 from ownseen.plays import led
-from ownseen.turns import IN_PLACE, LAID_BY
+from ownseen.turns import IN_PLACE
 
 WATCHED = "watched"
-WAYS = (IN_PLACE, LAID_BY, WATCHED)
+WAYS = ("in place", "laid by", "watched")
 
 
 def want_way(way, ways):

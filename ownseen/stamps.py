@@ -42,7 +42,8 @@ def want_stamped(stamped):
 
 def in_order(deals, by_deal):
     """The deals by their stamps, lesser ones first."""
-    return tuple([deal for _, deal in sorted([(by_deal[deal], deal) for deal in deals])])
+    rows = sorted([(by_deal[deal], deal) for deal in deals])
+    return tuple([row[1] for row in rows])
 
 
 def by_stamps(stamped):

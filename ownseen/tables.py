@@ -7,10 +7,10 @@ from ownseen.kinds import want_kind
 from ownseen.logs import want_way
 from ownseen.papers import Denial, Paper
 from ownseen.plays import ways_of
-from ownseen.turns import IN_PLACE, LAID_BY, carried_from, rounds_of, turns_of
+from ownseen.turns import carried_from, rounds_of, turns_of
 from ownseen.ways import tabled
 
-TABLE_WAYS = (IN_PLACE, LAID_BY)
+TABLE_WAYS = ("in place", "laid by")
 
 
 class Enough(Paper):
@@ -59,9 +59,8 @@ def lacking_log(kind, way, pair):
     """The log in which deal 2 does new while deal 1 holds held, and one of their orders cannot be played."""
     new, held = pair
     before, turned, behind = worst_of(kind, reached_turns(kind, way, pair))
-    early, late = 1, 2
-    if way == LAID_BY and turned[0] != new:
-        early, late = 2, 1
+    # In place the two are always turned as they stand in the table, new ahead of held.
+    early, late = (1, 2) if turned[0] == new else (2, 1)
     middle = dos_of(1, [held]) + dos_of(2, [new]) + [("ready", 1), ("ready", 2), ("yes", early), ("yes", late)]
     return whole(0, before) + middle + whole(3, behind)
 

@@ -5,7 +5,7 @@ from ownseen.errors import BadLot, BadOrder, Impossible, Misfit
 from ownseen.guards import want_few
 from ownseen.histories import History, places_of, want_history
 from ownseen.makers import tickets
-from ownseen.orders import holds_seen, want_order
+from ownseen.orders import holds_seen
 from ownseen.own import keeps
 from ownseen.papers import Paper
 from ownseen.shown import is_deal_lot
@@ -45,8 +45,9 @@ def doubled(history, kind, asked, ends):
     events = list(asked)
     for at, event in enumerate(history.events):
         events.append((event[0], 0, *event[1:]))
-        for deal in [deal for place, deal in ends if place == at]:
-            events.extend([("ready", 1, deal), ("yes", 1, deal)])
+        for place, deal in ends:
+            if place == at:
+                events.extend([("ready", 1, deal), ("yes", 1, deal)])
     return Weave([history.kind, kind], events)
 
 
@@ -65,7 +66,6 @@ def with_tickets(history, order):
 
 def tickets_weave(history, order):
     """The tickets weave of the history and of an order of it that holds what is seen."""
-    want_order(history, order)
     if not holds_seen(history, order):
         raise BadOrder("order")
     want_some_ended(history)

@@ -616,6 +616,17 @@ def right_along(kind, events, by_deal, spoilt):
         spoilt(kind, events[:at], by_deal, event[1]) is None for at, event in enumerate(events) if event[0] == "ready"
     )
 
+def let_only(kind, events, by_deal, spoilt):
+    """The events, without those of deals that are not let when their ready comes, from there on."""
+    kept, off = [], set()
+    for event in events:
+        if event[1] not in off:
+            if event[0] == "ready" and spoilt(kind, kept, by_deal, event[1]) is not None:
+                off.add(event[1])
+            else:
+                kept.append(event)
+    return kept
+
 
 # Operations that are turned round, and logs.
 

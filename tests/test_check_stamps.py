@@ -318,6 +318,15 @@ class ShowsStampTornTest(SeenTest):
                 more = [("ready", 1, deal) for deal in range(1, 1 + many)] + list(weave.events)
                 self.assertIs(shows(stamped, StampTorn(Weave(weave.kinds, more), stamped.stamps)), many == 6)
 
+    def test_the_second_house_must_be_right(self):
+        # No order fits house 0; house 1 was told right, or that there is no coin while one lies there.
+        stamped = Stamped(History(COIN, ended({0: [(0, 1)]})), [4])
+        for shows in (shows_torn_early, shows_torn_late):
+            for answer in (0, 1):
+                events = [(word, house, 0) + rest for house, told in ((0, 1), (1, answer)) for word, rest in (("ask", (0,)), ("answer", (told,)))]
+                events += [(word, house, 0) for word in ("ready", "yes") for house in (0, 1)]
+                self.assertIs(shows(stamped, StampTorn(Weave([COIN, COIN], events), [4])), answer == 0)
+
     def test_just_the_deals_of_the_history(self):
         stamped = Stamped(History(COIN, ended({0: [(0, 1)]})), [4])
         for shows, tells in ((shows_torn_early, torn_early), (shows_torn_late, torn_late)):
@@ -393,6 +402,13 @@ class ShowsApartTest(SeenTest):
         more = Weave(weave.kinds, list(weave.events) + [("no", 0, 2)])
         self.assertIs(shows_apart([8, 3], Apart(more)), False)
         self.assertIs(shows_apart([8, 3, 4], Apart(more)), False)
+        # No order fits, and just one of the houses is right by itself, or both are.
+        for answers in ((0, 0), (0, 1), (1, 0), (1, 1)):
+            events = [(word, house, 0) + rest for house in (0, 1) for word, rest in (("ask", (0,)), ("answer", (answers[house],)))]
+            events += [(word, house, 0) for word in ("ready", "yes") for house in (0, 1)]
+            one = Weave([COIN, COIN], events)
+            self.assertIs(shows_apart([8], Apart(one)), plain_apart([8], one))
+            self.assertIs(shows_apart([8], Apart(one)), False)
         turned = Weave(weave.kinds[::-1], [(event[0], 1 - event[1]) + event[2:] for event in weave.events])
         self.assertIs(shows_apart([8, 3], Apart(turned)), plain_apart([8, 3], turned))
 

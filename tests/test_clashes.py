@@ -139,6 +139,22 @@ class GoesBackTest(SeenTest):
         for function in (back_table, beside_table):
             self.assert_faults(function, {"kind": BOX}, [("kind", bad, BadKind("kind"))])
 
+    def test_a_gap_of_hundreds_of_operations(self):
+        # Behind held, new a wheel of 29 goes round, behind new, held one of 28: a mark is possible at the one's
+        # place 0, and at all places of the other one but 0; so it shows when both come to 0 together.
+        rows = [(0, 0, 0, 1), (0, 1, 0, 2), (0, 2, 0, 0), (1, 0, 0, 1), (1, 1, 0, 4), (1, 2, 0, 1), (2, 0, 0, 33), (2, 1, 0, 2), (2, 2, 0, 2)]
+        for low, many in ((3, 29), (32, 28)):
+            for place in range(many):
+                state = low + place
+                rows += [(state, 0, 0, state), (state, 1, 0, state), (state, 2, 0, low + (place + 1) % many)]
+                if (place == 0) == (many == 29):
+                    rows.append((state, 2, 1, state))
+        kind = Kind(["x", "y", "tick"], ["ok", "mark"], 60, 0, sorted(rows))
+        ticks = next(t for t in range(1, 29 * 28) if (t + 1) % 29 == 0 and (t + 1) % 28 == 0)
+        self.assertEqual(self.assert_short(goes_back, kind, (1, 0), (0, 0)), Sticks([], [(2, 0)] * ticks + [(2, 1)]))
+        self.assertEqual(self.assert_short(goes_beside, kind, (1, 0), (0, 0)).parts[:3], ((), (0, 0), (1, 0)))
+        self.assertEqual(ticks, 811)
+
 
 class GoesBesideTest(SeenTest):
     def test_against_all_lists(self):

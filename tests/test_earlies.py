@@ -18,7 +18,7 @@ from ownseen.weaves import Weave, at, order_of_all
 
 from tests.helper import (
     GREAT, NO_NUMBERS, NO_OBJECTS, NO_ROWS, SeenTest, by_deals, deals_with, early_spoilt, early_states, ended, free_deals,
-    great_kind, opened_some, plain_by_stamps, plain_left, ready_deals, right_along, some_histories, stamped_rows, strict,
+    great_kind, let_only, opened_some, plain_by_stamps, plain_left, ready_deals, right_along, some_histories, stamped_rows, strict,
     weave_stands,
 )
 
@@ -37,18 +37,6 @@ def opened_rows(seed, rows):
 
 
 OPENED = opened_rows(143, ROWS)
-
-
-def let_only(kind, events, by_deal):
-    """The events, without those of deals that are not let when their ready comes."""
-    kept, off = [], set()
-    for event in events:
-        if event[1] not in off:
-            if event[0] == "ready" and early_spoilt(kind, kept, by_deal, event[1]) is not None:
-                off.add(event[1])
-            else:
-                kept.append(event)
-    return kept
 
 
 class KeepsEarlyTest(SeenTest):
@@ -132,7 +120,7 @@ class RightEarlyTest(SeenTest):
         counts = [0, 0]
         for kind, events, stamps in ROWS:
             by_deal = by_deals(events, stamps)
-            for some in (events, let_only(kind, events, by_deal)):
+            for some in (events, let_only(kind, events, by_deal, early_spoilt)):
                 stamped = Stamped(History(kind, some), [by_deal[deal] for deal in sorted({event[1] for event in some})])
                 wanted = right_along(kind, some, by_deal, early_spoilt)
                 self.assertIs(right_early(stamped), wanted)
@@ -143,7 +131,7 @@ class RightEarlyTest(SeenTest):
     def test_a_house_that_is_right_all_along_keeps_the_rule(self):
         for kind, events, stamps in ROWS[:150]:
             by_deal = by_deals(events, stamps)
-            kept = let_only(kind, events, by_deal)
+            kept = let_only(kind, events, by_deal, early_spoilt)
             for many in range(len(kept) + 1):
                 some = kept[:many]
                 stamped = Stamped(History(kind, some), [by_deal[deal] for deal in sorted({event[1] for event in some})])

@@ -142,6 +142,12 @@ class JoinedTest(SeenTest):
             else:
                 self.assert_raises(TooMany("deals", 7), joined, weave)
 
+    def test_too_many_deals_come_ahead_of_a_house_that_breaks(self):
+        broken = [("ask", 0, 11, 0), ("answer", 0, 11, 1), ("ready", 0, 11), ("yes", 0, 11)]
+        many = [(word, 1, deal) for deal in range(8) for word in ("ready", "yes")]
+        self.assertEqual(joined(Weave([COIN, COIN], broken)), Lax(0, [11]))
+        self.assert_raises(TooMany("deals", 7), joined, Weave([COIN, COIN], broken + many))
+
     def test_more_events_than_may_be(self):
         # 119 events at house 1, and two yeses that came elsewhere only.
         asks = [(word, 1, 5, 0) for _ in range(57) for word in ("ask", "answer")]
@@ -280,6 +286,13 @@ class AgreedTest(SeenTest):
         self.assertEqual(agreed([ready, one]), Fits(list(range(7))))
         self.assert_raises(TooMany("deals", 7), agreed, [ready, one, History(COIN, [("ready", 7), ("yes", 7)])])
         self.assertEqual(len(completed([ready, three, one])), 3)
+
+    def test_too_many_deals_come_ahead_of_a_ring_and_of_a_house_that_breaks(self):
+        many = History(COIN, [(word, deal) for deal in range(8) for word in ("ready", "yes")])
+        broken = History(COIN, ended({11: [(0, 1)]}))
+        turned = History(COIN, [("ready", 1), ("yes", 1), ("ready", 0), ("yes", 0)])
+        for histories in ([broken, many], [turned, many], [many, turned, broken]):
+            self.assert_raises(TooMany("deals", 7), agreed, histories)
 
     def test_at_the_greatest_size(self):
         dice, kind = random.Random(105), great_kind()

@@ -19,7 +19,7 @@ from ownseen.weaves import order_of_all
 
 from tests.helper import (
     GREAT, NO_NUMBERS, NO_OBJECTS, SeenTest, by_deals, deals_with, ended, free_deals, great_kind, late_spoilt, late_stamps,
-    late_states, plain_by_stamps, plain_holds, plain_left, ready_deals, right_along, seen_pairs, some_histories, stamped_rows,
+    late_states, let_only, plain_by_stamps, plain_holds, plain_left, ready_deals, right_along, seen_pairs, some_histories, stamped_rows,
     strict,
 )
 from tests.test_earlies import opened_rows
@@ -170,7 +170,7 @@ class RightLateTest(SeenTest):
         counts = {}
         for kind, events, stamps in ROWS:
             by_deal = by_deals(events, stamps)
-            for some in (events, self.let_only(kind, events, by_deal)):
+            for some in (events, let_only(kind, events, by_deal, late_spoilt)):
                 mine = [by_deal[deal] for deal in sorted({event[1] for event in some})]
                 stamped, late = Stamped(History(kind, some), mine), are_late(some, mine)
                 wanted = late and right_along(kind, some, by_deal, late_spoilt)
@@ -181,16 +181,6 @@ class RightLateTest(SeenTest):
                     self.assertTrue(keeps_late(stamped))
         self.assertGreater(min(counts.values()), 30)
         self.assertEqual(len(counts), 3)
-
-    def let_only(self, kind, events, by_deal):
-        kept, off = [], set()
-        for event in events:
-            if event[1] not in off:
-                if event[0] == "ready" and late_spoilt(kind, kept, by_deal, event[1]) is not None:
-                    off.add(event[1])
-                else:
-                    kept.append(event)
-        return kept
 
     def test_deals_that_did_nothing_and_those_called_off_later(self):
         events = [("ready", 0), ("yes", 0), ("ready", 5), ("ask", 1, 0), ("answer", 1, 0), ("ready", 1), ("ready", 7)]

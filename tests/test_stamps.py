@@ -26,7 +26,7 @@ ROWS = stamped_rows(122, HISTORIES)
 
 # For two deals, 3 and 5: what is no row of their stamps.
 NO_STAMPS = NO_ROWS + (
-    [], [1], [1, 2, 3], [1, 1], [GREAT, GREAT], [1, True], [False, 1], [0, False], [1, None], [1, "2"], [1, 2.0], [[1], [2]],
+    [], [1], [1, 2, 3], [1, 1], [1, 2, 2], [1, 1, 2], [GREAT, GREAT], [1, True], [False, 1], [0, False], [1, None], [1, "2"], [1, 2.0], [[1], [2]],
     (1,), (1, 1), {1: 1, 2: 2}, {1, 2}, [-1, -1], [[1, 2]], "12",
 )
 
