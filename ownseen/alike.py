@@ -10,7 +10,7 @@ class Alike(Paper):
     """Pairs of states such that in each of them the other can all that the one can."""
 
     def __init__(self, pairs):
-        Paper.__init__(self, "alike", pairs)
+        super().__init__("alike", pairs)
         self.pairs = self.parts[0]
 
 
@@ -18,7 +18,7 @@ class Parts(Denial):
     """Operations that can be played from the one state and not from the other."""
 
     def __init__(self, operations):
-        Denial.__init__(self, "parts", operations)
+        super().__init__("parts", operations)
         self.operations = self.parts[0]
 
 

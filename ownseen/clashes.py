@@ -12,7 +12,7 @@ class Goes(Paper):
     """States, and pairs of states, that show that two operations can be turned round."""
 
     def __init__(self, places, pairs):
-        Paper.__init__(self, "goes", places, pairs)
+        super().__init__("goes", places, pairs)
         self.places = self.parts[0]
         self.pairs = self.parts[1]
 
@@ -21,7 +21,7 @@ class Sticks(Denial):
     """Operations before and behind two others that show that the new one does not go back."""
 
     def __init__(self, before, behind):
-        Denial.__init__(self, "sticks", before, behind)
+        super().__init__("sticks", before, behind)
         self.before = self.parts[0]
         self.behind = self.parts[1]
 
@@ -30,7 +30,7 @@ class Jars(Denial):
     """Operations before and behind two others that show that these do not go beside one another."""
 
     def __init__(self, before, first, second, behind):
-        Denial.__init__(self, "jars", before, first, second, behind)
+        super().__init__("jars", before, first, second, behind)
         self.before = self.parts[0]
         self.first = self.parts[1]
         self.second = self.parts[2]

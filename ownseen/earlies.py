@@ -18,7 +18,7 @@ class EarlyLets(Paper):
     """For each number of deals, by their stamps, the states that they leave, whatever yeses come."""
 
     def __init__(self, rooms):
-        Paper.__init__(self, "earlylets", rooms)
+        super().__init__("earlylets", rooms)
         self.rooms = self.parts[0]
 
 
@@ -26,7 +26,7 @@ class Apart(Paper):
     """A weave of a house of the early world and of one that keeps its own rule, which fits no order."""
 
     def __init__(self, weave):
-        Paper.__init__(self, "apart", weave)
+        super().__init__("apart", weave)
         self.weave = self.parts[0]
 
 

@@ -16,7 +16,7 @@ class Lax(Denial):
     """A house that breaks its own rule, and the order that shows it."""
 
     def __init__(self, house, order):
-        Denial.__init__(self, "lax", house, order)
+        super().__init__("lax", house, order)
         self.house = self.parts[0]
         self.order = self.parts[1]
 
@@ -25,7 +25,7 @@ class Ring(Denial):
     """Deals each of which is seen ahead of the next one, the last one ahead of the first, and where."""
 
     def __init__(self, deals, houses):
-        Denial.__init__(self, "ring", deals, houses)
+        super().__init__("ring", deals, houses)
         self.deals = self.parts[0]
         self.houses = self.parts[1]
 

@@ -16,7 +16,7 @@ class LateLets(Paper):
     """For each lot closed by stamps the states that its orders leave."""
 
     def __init__(self, rooms):
-        Paper.__init__(self, "latelets", rooms)
+        super().__init__("latelets", rooms)
         self.rooms = self.parts[0]
 
 

@@ -13,7 +13,7 @@ class Fits(Paper):
     """An order that fits."""
 
     def __init__(self, order):
-        Paper.__init__(self, "fits", order)
+        super().__init__("fits", order)
         self.order = self.parts[0]
 
 
@@ -21,7 +21,7 @@ class Bars(Denial):
     """The shortest beginnings of all orders that do not fit."""
 
     def __init__(self, beginnings):
-        Denial.__init__(self, "bars", beginnings)
+        super().__init__("bars", beginnings)
         self.beginnings = self.parts[0]
 
 

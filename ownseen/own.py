@@ -10,7 +10,7 @@ class Keeps(Paper):
     """For each closed lot its room."""
 
     def __init__(self, rooms):
-        Paper.__init__(self, "keeps", rooms)
+        super().__init__("keeps", rooms)
         self.rooms = self.parts[0]
 
 
@@ -18,7 +18,7 @@ class Breaks(Denial):
     """An order that holds what is seen and does not fit."""
 
     def __init__(self, order):
-        Denial.__init__(self, "breaks", order)
+        super().__init__("breaks", order)
         self.order = self.parts[0]
 
 

@@ -13,7 +13,7 @@ class StampTorn(Paper):
     """A weave that fits no order, and the stamps of its deals."""
 
     def __init__(self, weave, stamps):
-        Paper.__init__(self, "stamptorn", weave, stamps)
+        super().__init__("stamptorn", weave, stamps)
         self.weave = self.parts[0]
         self.stamps = self.parts[1]
 

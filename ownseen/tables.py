@@ -17,7 +17,7 @@ class Enough(Paper):
     """States, and pairs of states, that show that all operations that are not in a table can be turned round."""
 
     def __init__(self, places, pairs):
-        Paper.__init__(self, "enough", places, pairs)
+        super().__init__("enough", places, pairs)
         self.places = self.parts[0]
         self.pairs = self.parts[1]
 
@@ -26,7 +26,7 @@ class Lacks(Denial):
     """A log that is run with a table, and does not keep the own rule."""
 
     def __init__(self, log):
-        Denial.__init__(self, "lacks", log)
+        super().__init__("lacks", log)
         self.log = self.parts[0]
 
 

@@ -1,5 +1,6 @@
 """Texts: strings of items with single blanks between, and how they are read."""
 
+from ownseen.checks import is_within
 from ownseen.errors import BadText
 
 DIGITS = "0123456789"
@@ -44,8 +45,20 @@ class Reader:
             raise BadText(self.at - 1)
 
     def take_number(self, least, most):
-        """The next item as an integer from least to most."""
+        """The next item as an integer from least to most, None being no bound."""
         piece = self.take_piece()
-        if not is_number_text(piece) or not least <= int(piece) <= most:
+        if not is_number_text(piece) or not is_within(int(piece), least, most):
             raise BadText(self.at - 1)
         return int(piece)
+
+    def take_word(self, words):
+        """The next item, which is to be one of these words."""
+        piece = self.take_piece()
+        if piece not in words:
+            raise BadText(self.at - 1)
+        return piece
+
+    def take_end(self):
+        """Wants that no item is left."""
+        if not self.is_done():
+            raise BadText(self.at)

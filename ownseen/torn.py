@@ -16,7 +16,7 @@ class Torn(Paper):
     """A weave that tears a history."""
 
     def __init__(self, weave):
-        Paper.__init__(self, "torn", weave)
+        super().__init__("torn", weave)
         self.weave = self.parts[0]
 
 
@@ -24,7 +24,7 @@ class Core(Paper):
     """The least lot narrowed to which a history is torn, the weave, and why no deal can be missed."""
 
     def __init__(self, deals, weave, papers):
-        Paper.__init__(self, "core", deals, weave, papers)
+        super().__init__("core", deals, weave, papers)
         self.deals = self.parts[0]
         self.weave = self.parts[1]
         self.papers = self.parts[2]

@@ -12,7 +12,7 @@ class Lets(Paper):
     """For each closed lot of the deals that have, or may have, a yes its room."""
 
     def __init__(self, rooms):
-        Paper.__init__(self, "lets", rooms)
+        super().__init__("lets", rooms)
         self.rooms = self.parts[0]
 
 
@@ -20,7 +20,7 @@ class Spoils(Denial):
     """Ready deals, and an order that breaks the own rule if just these have their yes."""
 
     def __init__(self, deals, order):
-        Denial.__init__(self, "spoils", deals, order)
+        super().__init__("spoils", deals, order)
         self.deals = self.parts[0]
         self.order = self.parts[1]
 

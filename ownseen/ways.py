@@ -37,6 +37,14 @@ def may_give(history, way, pairs, deal, work):
     return way == WATCHED or not any([(work, held) in pairs for held in held_by_others(history, deal)])
 
 
+def least_answer(history, way, pairs, deal, ask):
+    """The least answer that may be given to the ask of the deal, None if it waits."""
+    for answer in range(len(history.kind.answers)):
+        if may_give(history, way, pairs, deal, (ask, answer)):
+            return answer
+    return None
+
+
 def may_tell_ready(history, way, deal):
     """Whether a ready of the deal, which can stand, may be told."""
     if way != WATCHED:
@@ -75,10 +83,7 @@ def answer_for(kind, way, table, log, deal, ask):
     """The least answer that may be given to the ask of the deal, None if it waits."""
     history, pairs = asked(kind, way, table, log, deal)
     want_number(ask, len(kind.asks), "ask")
-    for answer in range(len(kind.answers)):
-        if may_give(history, way, pairs, deal, (ask, answer)):
-            return answer
-    return None
+    return least_answer(history, way, pairs, deal, ask)
 
 
 def may_ready(kind, way, log, deal):

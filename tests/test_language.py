@@ -21,7 +21,7 @@ LIBRARY = {
 }
 BUILTINS = (
     "len range enumerate zip min max sum abs sorted reversed int str bool bytes list tuple dict set isinstance ord repr "
-    "any all divmod iter next map Exception ValueError TypeError KeyError IndexError LookupError ZeroDivisionError "
+    "any all divmod iter next map super Exception ValueError TypeError KeyError IndexError LookupError ZeroDivisionError "
     "ArithmeticError OverflowError RuntimeError NotImplementedError StopIteration NotImplemented"
 ).split()
 METHODS = (
@@ -90,6 +90,11 @@ def is_at_once(node, parents):
     if isinstance(parent, (ast.For, ast.comprehension)):
         return parent.iter is node
     return called(parent) in AT_ONCE or (isinstance(parent, ast.Call) and called(parent) == "join")
+
+
+def is_property(node):
+    """Whether the node is a method that is read as an attribute."""
+    return isinstance(node, ast.FunctionDef) and any(getattr(told, "id", None) == "property" for told in node.decorator_list)
 
 
 def docstrings(tree):
@@ -239,13 +244,53 @@ class LanguageTest(unittest.TestCase):
     def test_attributes_and_methods(self):
         methods = {node.name for _, node, parents in nodes(ast.FunctionDef) if isinstance(parents[-1], ast.ClassDef)}
         stored = {node.attr for _, node, _ in nodes(ast.Attribute) if isinstance(node.ctx, ast.Store)}
-        self.assertFalse(methods & stored)
+        properties = {node.name for _, node, _ in nodes(ast.FunctionDef) if is_property(node)}
+        self.assert_apart(methods & stored)
         self.assertFalse(stored & set(ATTRIBUTES_BARRED))
         for name, node, parents in nodes(ast.Attribute):
             if isinstance(parents[-1], ast.Call) and parents[-1].func is node:
                 self.assertIn(node.attr, set(METHODS) | methods, (name, node.lineno))
             elif isinstance(node.ctx, ast.Load) and node.attr not in ("__class__", "__name__"):
-                self.assertIn(node.attr, stored, (name, node.lineno))
+                self.assertIn(node.attr, stored | properties, (name, node.lineno))
+
+    def assert_apart(self, both):
+        """Names that are methods and attributes are so in unlike classes, and no method is read off a class."""
+        classes = {node.name: node for _, node, _ in nodes(ast.ClassDef)}
+        for name, node in classes.items():
+            above = [classes[base.id] for base in node.bases if getattr(base, "id", None) in classes]
+            family = [told for one in [node, *above] for told in ast.walk(one)]
+            methods = {told.name for told in family if isinstance(told, ast.FunctionDef)}
+            stored = {told.attr for told in family if isinstance(told, ast.Attribute) and isinstance(told.ctx, ast.Store)}
+            self.assertFalse(methods & stored, name)
+        for name, node, parents in nodes(ast.Attribute):
+            self.assertFalse(isinstance(node.value, ast.Name) and node.value.id in classes, (name, node.lineno))
+            if both and any(is_property(parent) for parent in parents):
+                self.assertFalse(isinstance(parents[-1], ast.Call) and parents[-1].func is node and node.attr in both, name)
+
+    def test_properties(self):
+        for name, node, _ in nodes(ast.FunctionDef):
+            if is_property(node):
+                self.assertEqual(len(node.body), 2, (name, node.name))
+                self.assertIsInstance(node.body[1], ast.Return)
+
+    def test_generators(self):
+        yielding = set()
+        for name, node, parents in nodes((ast.Yield, ast.YieldFrom)):
+            self.assertIsInstance(parents[-1], ast.Expr, name)
+            self.assertFalse(any(isinstance(told, (ast.ClassDef, ast.Try)) for told in parents), name)
+            yielding.add([told for told in parents if isinstance(told, ast.FunctionDef)][-1].name)
+        made = [node.name for _, node, _ in nodes(ast.FunctionDef)]
+        for word in yielding:
+            self.assertEqual(made.count(word), 1, word)
+            used = [name for name, node, _ in nodes(ast.Name) if node.id == word]
+            self.assertEqual(used, [], word)
+
+    def test_module_tables_are_plain(self):
+        for name, tree in TREES.items():
+            for node in tree.body:
+                if isinstance(node, ast.Assign):
+                    inner = [told for told in ast.walk(node.value) if isinstance(told, (ast.List, ast.Dict))]
+                    self.assertFalse([told for told in inner if told is not node.value], (name, node.lineno))
 
     def test_what_is_iterated_at_once(self):
         for name, node, parents in nodes(ast.Call):
