@@ -1,8 +1,8 @@
 """Whether what a disk keeps outlives every cut, and whether a paper about this is right."""
 
-from ownseen.checks import is_integer, is_lot, is_row
-from ownseen.disks import cut_blocks, is_block, want_disk
-from ownseen.errors import BadNumber
+from ownseen.checks import is_integer, is_row
+from ownseen.disks import cut_blocks, is_block, want_cut, want_disk
+from ownseen.errors import BadLot, BadNumber, Misfit
 from ownseen.journals import NO_HEAD, is_head, is_record, meaning_by, place_of, room_for, want_records
 from ownseen.papers import Denial, Paper
 from ownseen.plugs import lying
@@ -130,10 +130,9 @@ def are_contents(disk, value):
 
 def is_losing(disk, base, records, value):
     """Whether the parts of a Lost are a cut behind which the base, or some record, is not meant."""
-    many = disk.waiting()
-    if not is_lot(value.lands, many) or not is_lot(value.torn, many):
-        return False
-    if any([number in value.lands for number in value.torn]):
+    try:
+        want_cut(disk, value.lands, value.torn)
+    except (BadLot, Misfit):
         return False
     _, told, kept = meaning_by(cut_blocks(disk, value.lands, value.torn))
     return told != base or kept[:len(records)] != tuple(records)

@@ -21,17 +21,20 @@ def want_cut(disk, lands, torn):
         raise BadLot("lands")
     if not is_lot(torn, many):
         raise BadLot("torn")
-    if any([number in lands for number in torn]):
+    landing = set(lands)
+    if any([number in landing for number in torn]):
         raise Misfit("torn")
 
 
 def cut_blocks(disk, lands, torn):
     """The blocks as they lie behind a cut."""
     blocks = list(disk.blocks)
+    landing = set(lands)
+    tearing = set(torn)
     for number, (at, block) in enumerate(disk.cache):
-        if number in lands:
+        if number in landing:
             blocks[at] = block
-        elif number in torn:
+        elif number in tearing:
             blocks[at] = ()
     return blocks
 

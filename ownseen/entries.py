@@ -1,7 +1,6 @@
 """What houses and tellers put into their journals, and how it is read again."""
 
-from ownseen.guards import TOP_DEAL
-from ownseen.letters import MOST_HOUSES
+from ownseen.guards import MOST_HOUSES, TOP_DEAL
 
 # The number of its word stands first in each record of a journal; what a teller puts
 # has a number of its own, so that neither disk is ever read as one of the other.

@@ -5,6 +5,7 @@ from ownseen.errors import BadNumber, TooMany
 
 MOST_DEALS = 7
 TOP_DEAL = 11
+MOST_HOUSES = 4
 
 
 def want_within(value, least, most, part):

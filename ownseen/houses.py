@@ -5,12 +5,11 @@ from ownseen.courses import MOST_EVENTS
 from ownseen.disks import want_disk
 from ownseen.entries import base_of, folded_to, log_kept, packed
 from ownseen.errors import BadLot, BadValue, Out
-from ownseen.guards import TOP_DEAL, want_deal, want_within
+from ownseen.guards import MOST_HOUSES, TOP_DEAL, want_deal, want_within
 from ownseen.journals import Journal, meant
-from ownseen.kinds import want_kind
-from ownseen.ledgers import Ledger, is_waiting, with_first, working_in
-from ownseen.letters import MOST_HOUSES, TELLER, is_letter
-from ownseen.logs import WATCHED, WAYS, meant_by, want_way
+from ownseen.kinds import want_kind, with_first
+from ownseen.letters import TELLER, is_letter
+from ownseen.logs import WATCHED, WAYS, logged, meant_by, want_way
 from ownseen.own import keeps
 from ownseen.ways import least_answer, may_tell_ready, tabled
 
@@ -21,22 +20,26 @@ def log_of(disk):
     return (folded_to(base), log_kept(records))
 
 
-def folding_of(ledger, way):
-    """The state to which a house may fold, None if it may not."""
-    if working_in(ledger) or ledger.history.readied:
-        return None
-    state = meant_by(ledger.kind, way, ledger.lines)
-    if way == WATCHED and state is not None:
-        paper = keeps(ledger.history)
-        if not paper or paper.rooms[-1][1] != (state,):
-            return None
-    return state
+def working_in(history, queue):
+    """The lot of the deals at work, by the history of a log and the asks that wait."""
+    deals = {deal: True for deal in history.opened if deal not in history.readied}
+    for wait in queue:
+        deals[wait[0]] = True
+    return tuple(sorted(deals))
+
+
+def is_settled(history, state):
+    """Whether all orders of the ended deals that hold what is seen leave just this state."""
+    paper = keeps(history)
+    return bool(paper) and paper.rooms[-1][1] == (state,)
 
 
 class House:
     """A house; beside what is told, came tells for each deal the words of its events, over all lives.
 
     Fresh has the events that nobody was told yet; blown is whether Out was raised since the last cut.
+    Of this life are ground, the kind with its first state; history, that of the log; queue, the asks
+    that wait, as triples (deal, ask, hand); askers, from which hand the last ask of a deal came; closed.
     """
 
     def __init__(self, number, kind, way, table, disk):
@@ -60,29 +63,39 @@ class House:
         self.rise()
 
     @property
-    def log(self):
-        """The records of the deals that were not called off."""
-        return self.ledger.lines
-
-    @property
     def waits(self):
         """The deals of the asks that wait, in their order."""
-        return tuple([wait[0] for wait in self.ledger.queue])
+        return tuple([wait[0] for wait in self.queue])
 
     @property
     def working(self):
         """The lot of the deals at work."""
-        return working_in(self.ledger)
+        return working_in(self.history, self.queue)
 
     @property
     def holding(self):
         """The lot of the ready deals."""
-        return self.ledger.history.readied
+        return self.history.readied
 
     def fall(self):
         """The plug is out: all that was in mind is lost."""
         self.up = False
-        self.ledger = Ledger(self.kind, ())
+        self.start(self.kind, ())
+
+    def start(self, ground, log):
+        """Nothing waits, and nothing is closed but what has ended."""
+        self.ground = ground
+        self.queue = []
+        self.askers = {}
+        self.closed = {}
+        self.keep(log)
+
+    def keep(self, log):
+        """Takes this log for the one that was."""
+        self.log = tuple(log)
+        self.history = logged(self.ground, self.log)
+        for deal in self.history.ended:
+            self.closed[deal] = True
 
     def blow(self):
         """The plug is out as Out was raised."""
@@ -112,8 +125,8 @@ class House:
             return False
         self.up = True
         self.life = self.journal.life
-        kind = with_first(self.kind, folded_to(self.journal.base))
-        self.ledger = Ledger(kind, log_kept(self.journal.records()))
+        ground = with_first(self.kind, folded_to(self.journal.base))
+        self.start(ground, log_kept(self.journal.records()))
         self.tell_lasting()
         return True
 
@@ -148,14 +161,17 @@ class House:
 
     def has_room(self):
         """Whether there is room beyond what its ready deals need."""
-        history = self.ledger.history
-        left = min(self.journal.room, MOST_EVENTS - len(history.events))
-        return left >= len(history.readied) + 2
+        left = min(self.journal.room, MOST_EVENTS - len(self.history.events))
+        return left >= len(self.holding) + 2
+
+    def done_by(self, deal):
+        """The operations that the deal did."""
+        return self.history.works.get(deal, ())
 
     def join(self, record):
         """A record joins the log, and is put into the journal."""
         self.journal.put(packed(record))
-        self.ledger.join(record)
+        self.keep(self.log + (record,))
 
     def join_surely(self, word, deal):
         """A ready or a yes joins the log, is forced, and is an event."""
@@ -165,25 +181,26 @@ class House:
 
     def answer_letter(self, hand, deal, number):
         """The answer of this number to the deal."""
-        return (hand, self.number, "answer", deal, number, self.ledger.done_by(deal)[number][1], self.life)
+        return (hand, self.number, "answer", deal, number, self.done_by(deal)[number][1], self.life)
 
     def try_ask(self, wait):
         """The letters of an ask that is answered, or waits as the last one."""
         deal, ask, hand = wait
-        history = self.ledger.history
-        answer = least_answer(history, self.way, self.pairs, deal, ask) if self.has_room() else None
+        answer = None
+        if self.has_room():
+            answer = least_answer(self.history, self.way, self.pairs, deal, ask)
         if answer is None:
-            self.ledger.queue.append(wait)
+            self.queue.append(wait)
             return []
-        number = len(self.ledger.done_by(deal))
+        number = len(self.done_by(deal))
         self.join(("do", deal, ask, answer))
         self.tell("answer", deal, answer)
         return [self.answer_letter(hand, deal, number)]
 
     def try_waits(self):
         """The letters of all asks that wait, tried in their order."""
-        queue = self.ledger.queue
-        self.ledger.queue = []
+        queue = list(self.queue)
+        self.queue = []
         letters = []
         for wait in queue:
             letters.extend(self.try_ask(wait))
@@ -191,38 +208,38 @@ class House:
 
     def call_off(self, deal):
         """Calls the deal off; the letters of the asks that waited."""
-        self.ledger.shut(deal)
+        self.keep([record for record in self.log if record[1] != deal])
+        self.queue = [wait for wait in self.queue if wait[0] != deal]
+        self.closed[deal] = True
         self.tell_off(deal)
         return self.try_waits()
 
     def take_ask(self, letter):
         """The letters that an ask brings about."""
         _, hand, _, deal, number, ask, life = letter
-        if life != self.life or deal in self.ledger.closed:
+        if life != self.life or deal in self.closed:
             return [(hand, self.number, "gone", deal, self.life)]
-        many = len(self.ledger.done_by(deal))
+        many = len(self.done_by(deal))
         if number < many:
             return [self.answer_letter(hand, deal, number)]
-        if number > many or deal in self.holding or is_waiting(self.ledger, deal):
+        if number > many or deal in self.holding or deal in self.waits:
             return []
         self.tell("ask", deal, ask)
-        self.ledger.askers[deal] = hand
+        self.askers[deal] = hand
         return self.try_ask((deal, ask, hand))
 
     def may_hold(self, deal, many, life):
         """Whether it may be ready for a deal that has so many answers of this life."""
-        ledger = self.ledger
-        if life != self.life or deal not in self.working or is_waiting(ledger, deal):
+        if life != self.life or deal not in self.working or deal in self.waits:
             return False
-        if len(ledger.done_by(deal)) != many or not self.has_room():
+        if len(self.done_by(deal)) != many or not self.has_room():
             return False
-        return may_tell_ready(ledger.history, self.way, deal)
+        return may_tell_ready(self.history, self.way, deal)
 
     def take_hold(self, letter):
         """The letters that a hold brings about."""
         _, _, _, deal, many, life = letter
-        history = self.ledger.history
-        if deal in history.readied or deal in history.ended:
+        if deal in self.holding or deal in self.history.ended:
             return [self.to_teller("held", deal)]
         if self.may_hold(deal, many, life):
             self.join_surely("ready", deal)
@@ -246,7 +263,7 @@ class House:
             if letter[1] != TELLER:
                 return []
             self.journal.put(packed(("no", deal)))
-        elif deal in self.ledger.closed:
+        elif deal in self.closed:
             return []
         return self.call_off(deal)
 
@@ -281,7 +298,7 @@ class House:
         want_deal(deal)
         if deal not in self.working:
             return ()
-        hand = self.ledger.askers[deal]
+        hand = self.askers[deal]
         try:
             letters = self.call_off(deal)
         except Out:
@@ -293,11 +310,20 @@ class House:
         """Asks the teller once more about each ready deal."""
         return tuple([self.to_teller("what", deal) for deal in self.holding])
 
+    def folding(self):
+        """The state to which it may fold, None if it may not."""
+        if self.working or self.holding:
+            return None
+        state = meant_by(self.ground, self.way, self.log)
+        if self.way == WATCHED and not is_settled(self.history, state):
+            return None
+        return state
+
     def sweep(self):
         """Sweeps its journal, and folds where it may; whether it was done."""
         if not self.up:
             return False
-        state = folding_of(self.ledger, self.way)
+        state = self.folding()
         try:
             if state is None:
                 self.journal.sweep(self.journal.base, [packed(record) for record in self.log])
@@ -307,7 +333,8 @@ class House:
             self.blow()
             return False
         if state is not None:
-            self.ledger.fold(state)
+            self.ground = with_first(self.kind, state)
+            self.keep(())
         return True
 
     def meaning(self, ended):

@@ -4,12 +4,12 @@ from ownseen.cases import least_order
 from ownseen.checks import is_row
 from ownseen.courses import MOST_EVENTS
 from ownseen.errors import BadValue, Misfit, TooMany
-from ownseen.guards import want_few
+from ownseen.guards import MOST_HOUSES, want_few
 from ownseen.histories import History, seen_of
 from ownseen.orders import Fits
 from ownseen.own import keeps
 from ownseen.papers import Denial
-from ownseen.weaves import MOST_HOUSES, histories_of, last_order, want_weave
+from ownseen.weaves import histories_of, last_order, want_weave
 
 
 class Lax(Denial):

@@ -145,3 +145,8 @@ def operations_of(kind):
     """The operations that are possible from some state, ascending."""
     want_kind(kind)
     return tuple(sorted({(row[1], row[2]) for row in kind.rows}))
+
+
+def with_first(kind, state):
+    """The kind with this first state; the kind itself for None."""
+    return kind if state is None else Kind(kind.asks, kind.answers, kind.states, state, kind.rows)

@@ -2,10 +2,9 @@
 
 from ownseen.checks import is_row, is_within
 from ownseen.errors import BadText, BadValue
-from ownseen.guards import TOP_DEAL
+from ownseen.guards import MOST_HOUSES, TOP_DEAL
 from ownseen.texts import Reader
 
-MOST_HOUSES = 4
 TELLER = 4
 FIRST_HAND = 5
 TOP_NODE = 8
@@ -115,7 +114,7 @@ def read_letter(text):
     to = reader.take_number(0, TOP_NODE)
     sender = read_sender(reader, to)
     words = bounds_between(to, sender)
-    word = reader.take_word(words)
+    word = reader.take_word(list(words))
     deal = reader.take_number(0, TOP_DEAL)
     numbers = [reader.take_number(bound[0], bound[1]) for bound in words[word]]
     if word == "end":

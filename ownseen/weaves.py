@@ -4,12 +4,10 @@ from ownseen.boards import Board, order_or_bars, stuck_at
 from ownseen.checks import is_order, is_row, is_within
 from ownseen.courses import MOST_EVENTS, Course, works_of
 from ownseen.errors import BadEvents, BadKind, BadOrder, BadValue, TooMany
-from ownseen.guards import want_few, want_number
+from ownseen.guards import MOST_HOUSES, want_few, want_number
 from ownseen.histories import History
 from ownseen.kinds import Kind
 from ownseen.orders import Bars, Fits
-
-MOST_HOUSES = 4
 
 
 def are_kinds(value):

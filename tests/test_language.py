@@ -338,7 +338,8 @@ class LanguageTest(unittest.TestCase):
         for name, node, _ in nodes(ast.Raise):
             self.assertTrue(node.exc is None or called(node.exc) in own | {"ValueError", "TypeError"}, (name, node.lineno))
         for name, node, _ in nodes(ast.ExceptHandler):
-            self.assertIn(getattr(node.type, "id", None), own | {"KeyError", "ZeroDivisionError"}, (name, node.lineno))
+            for told in node.type.elts if isinstance(node.type, ast.Tuple) else [node.type]:
+                self.assertIn(getattr(told, "id", None), own | {"KeyError", "ZeroDivisionError"}, (name, node.lineno))
 
 
 if __name__ == "__main__":

@@ -2,7 +2,9 @@
 
 import unittest
 
+from ownseen.accords import Accord, Quarrel
 from ownseen.alike import Alike, Parts
+from ownseen.check_journals import Lost, Outlives
 from ownseen.clashes import Goes, Jars, Sticks
 from ownseen.earlies import Apart, EarlyLets
 from ownseen.joins import Lax, Ring
@@ -38,6 +40,10 @@ CLASSES = (
     (Jars, "jars", ("before", "first", "second", "behind"), True),
     (Enough, "enough", ("places", "pairs"), False),
     (Lacks, "lacks", ("log",), True),
+    (Outlives, "outlives", ("contents",), False),
+    (Lost, "lost", ("lands", "torn"), True),
+    (Accord, "accord", ("rows",), False),
+    (Quarrel, "quarrel", ("deal", "house"), True),
 )
 VALUES = ([1, (2, [3])], None, "word", True, {"a": [1]}, 7, [], ([[]],), object())
 
