@@ -59,19 +59,17 @@ def losing_records(contents, head, records):
     many = len(contents)
     if len(records) > room_for(many):
         return {}
-    # The greatest life that may stand ahead, and the block in which it may: at first since, in none.
     greatest = head[3]
-    ahead = {}
     for number, record in enumerate(records):
         place = place_of(many, head[2], number)
         stray = stray_record(contents[place], head, number, record)
         if stray is not None:
             return {place: stray}
-        lives = sorted([(block[1], block) for block in contents[place]])
-        if lives[0][0] < greatest:
-            return {place: lives[0][1], **ahead}
-        greatest = lives[-1][0]
-        ahead = {place: lives[-1][1]}
+        lives = [block[1] for block in contents[place]]
+        if min(lives) < greatest:
+            # Nothing is left to choose for a cut: a block with a write that waits may be torn, and is a stray.
+            return {}
+        greatest = max(lives)
     return None
 
 

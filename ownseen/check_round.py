@@ -5,10 +5,10 @@ from ownseen.checks import are_pairs, is_row
 
 
 def are_accord_rows(value):
-    """Whether any value has rows of two integers and a word; True and False are no integers here."""
+    """Whether any value has rows of three that begin with two integers; True and False are none here."""
     if not is_row(value) or not all([is_row(row) and len(row) == 3 for row in value]):
         return False
-    return are_pairs([row[:2] for row in value]) and all([isinstance(row[2], str) for row in value])
+    return are_pairs([row[:2] for row in value])
 
 
 def shows_accord(teller, disks, value):

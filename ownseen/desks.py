@@ -1,7 +1,6 @@
 """Desks: all that is told of a weave, as papers and in words."""
 
-from ownseen.guards import want_few
-from ownseen.joins import joined, want_few_each
+from ownseen.joins import joined
 from ownseen.own import keeps
 from ownseen.weaves import histories_of, order_of_all, want_weave
 
@@ -9,9 +8,8 @@ from ownseen.weaves import histories_of, order_of_all, want_weave
 def audit(weave):
     """What keeps tells of each house, then what joined tells, then what order_of_all tells."""
     want_weave(weave)
+    # All histories come first: those that are too long are told of ahead of deals that are too many.
     histories = histories_of(weave)
-    want_few_each(histories)
-    want_few(weave.ended)
     return (*[keeps(history) for history in histories], joined(weave), order_of_all(weave))
 
 

@@ -6,7 +6,6 @@ from ownseen.guards import MOST_HOUSES, TOP_DEAL
 # has a number of its own, so that neither disk is ever read as one of the other.
 WORDS = ("do", "ready", "yes", "no")
 TELLER_YES = 4
-NO_FOLD = 0
 
 
 def packed(record):
@@ -32,13 +31,13 @@ def log_records(records):
 
 
 def base_of(state):
-    """The base of a journal that folded to the state."""
-    return NO_FOLD + 1 + state
+    """The base of a journal that folded to the state; that of one which never folded is 0."""
+    return state + 1
 
 
 def folded_to(base):
     """The state to which the journal with this base folded last, None if it never did."""
-    return None if base <= NO_FOLD else base - 1 - NO_FOLD
+    return base - 1 if base > 0 else None
 
 
 def log_kept(records):

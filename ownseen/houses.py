@@ -2,14 +2,14 @@
 
 from ownseen.checks import is_lot
 from ownseen.courses import MOST_EVENTS
-from ownseen.disks import want_disk
 from ownseen.entries import base_of, folded_to, log_kept, packed
 from ownseen.errors import BadLot, BadValue, Out
 from ownseen.guards import MOST_HOUSES, TOP_DEAL, want_deal, want_within
-from ownseen.journals import Journal, meant
+from ownseen.journals import meant
 from ownseen.kinds import want_kind, with_first
 from ownseen.letters import TELLER, is_letter
 from ownseen.logs import WATCHED, WAYS, logged, meant_by, want_way
+from ownseen.nodes import Node
 from ownseen.own import keeps
 from ownseen.ways import least_answer, may_tell_ready, tabled
 
@@ -34,10 +34,10 @@ def is_settled(history, state):
     return bool(paper) and paper.rooms[-1][1] == (state,)
 
 
-class House:
+class House(Node):
     """A house; beside what is told, came tells for each deal the words of its events, over all lives.
 
-    Fresh has the events that nobody was told yet; blown is whether Out was raised since the last cut.
+    Fresh has the events that nobody was told yet.
     Of this life are ground, the kind with its first state; history, that of the log; queue, the asks
     that wait, as triples (deal, ask, hand); askers, from which hand the last ask of a deal came; closed.
     """
@@ -46,21 +46,15 @@ class House:
         want_within(number, 0, MOST_HOUSES - 1, "number")
         want_kind(kind)
         want_way(way, WAYS)
-        pairs = tabled(kind, table)
-        want_disk(disk)
+        self.pairs = tabled(kind, table)
+        self.table = tuple(self.pairs)
         self.number = number
         self.kind = kind
         self.way = way
-        self.table = tuple(pairs)
-        self.pairs = pairs
-        self.disk = disk
-        self.life = meant(disk)[0]
         self.came = {}
         self.fresh = []
-        self.blown = False
-        self.journal = None
-        self.fall()
-        self.rise()
+        super().__init__(disk)
+        self.come_up()
 
     @property
     def waits(self):
@@ -77,9 +71,8 @@ class House:
         """The lot of the ready deals."""
         return self.history.readied
 
-    def fall(self):
-        """The plug is out: all that was in mind is lost."""
-        self.up = False
+    def forget(self):
+        """Nothing is in mind."""
         self.start(self.kind, ())
 
     def start(self, ground, log):
@@ -97,16 +90,15 @@ class House:
         for deal in self.history.ended:
             self.closed[deal] = True
 
-    def blow(self):
-        """The plug is out as Out was raised."""
-        self.blown = True
-        self.fall()
+    def begin(self):
+        """A life begins with the log that lasted."""
+        ground = with_first(self.kind, folded_to(self.journal.base))
+        self.start(ground, log_kept(self.journal.records()))
+        self.tell_lasting()
 
     def cut(self, lands, torn=()):
         """Pulls the plug of its disk."""
-        self.disk.cut(lands, torn)
-        self.blown = False
-        self.fall()
+        self.pull(lands, torn)
 
     def fuse(self, many):
         """Puts a fuse into its disk."""
@@ -114,21 +106,7 @@ class House:
 
     def rise(self):
         """Comes up if it is out, and tells whether it did."""
-        if self.up:
-            return False
-        if self.blown:
-            self.cut(())
-        try:
-            self.journal = Journal(self.disk)
-        except Out:
-            self.blow()
-            return False
-        self.up = True
-        self.life = self.journal.life
-        ground = with_first(self.kind, folded_to(self.journal.base))
-        self.start(ground, log_kept(self.journal.records()))
-        self.tell_lasting()
-        return True
+        return self.come_up()
 
     def tell(self, word, deal, *rest):
         """An event."""
@@ -168,14 +146,14 @@ class House:
         """The operations that the deal did."""
         return self.history.works.get(deal, ())
 
-    def join(self, record):
+    def add_record(self, record):
         """A record joins the log, and is put into the journal."""
         self.journal.put(packed(record))
         self.keep(self.log + (record,))
 
-    def join_surely(self, word, deal):
+    def add_surely(self, word, deal):
         """A ready or a yes joins the log, is forced, and is an event."""
-        self.join((word, deal))
+        self.add_record((word, deal))
         self.journal.force()
         self.tell(word, deal)
 
@@ -193,7 +171,7 @@ class House:
             self.queue.append(wait)
             return []
         number = len(self.done_by(deal))
-        self.join(("do", deal, ask, answer))
+        self.add_record(("do", deal, ask, answer))
         self.tell("answer", deal, answer)
         return [self.answer_letter(hand, deal, number)]
 
@@ -242,7 +220,7 @@ class House:
         if deal in self.holding or deal in self.history.ended:
             return [self.to_teller("held", deal)]
         if self.may_hold(deal, many, life):
-            self.join_surely("ready", deal)
+            self.add_surely("ready", deal)
             return [self.to_teller("held", deal)]
         letters = self.call_off(deal) if deal in self.working else []
         return [self.to_teller("barred", deal)] + letters
@@ -252,7 +230,7 @@ class House:
         deal = letter[3]
         letters = []
         if deal in self.holding:
-            self.join_surely("yes", deal)
+            self.add_surely("yes", deal)
             letters = self.try_waits()
         return [self.to_teller("done", deal)] + letters
 
@@ -285,13 +263,7 @@ class House:
             raise BadValue("letter")
         if letter[2] == "ask" and letter[5] >= len(self.kind.asks):
             raise BadValue("letter")
-        if not self.up:
-            return ()
-        try:
-            return tuple(self.reply(letter))
-        except Out:
-            self.blow()
-            return ()
+        return self.send_for(letter)
 
     def drop(self, deal):
         """Calls off a deal at work; the letters that it sends."""

@@ -1,11 +1,11 @@
 """The teller: asks the houses of a deal round, and tells yes or no."""
 
-from ownseen.disks import want_disk
 from ownseen.entries import packed_yes, yeses_kept
-from ownseen.errors import BadValue, Out
+from ownseen.errors import BadValue
 from ownseen.guards import want_deal
-from ownseen.journals import Journal, meant
+from ownseen.journals import meant
 from ownseen.letters import TELLER, is_letter
+from ownseen.nodes import Node
 
 YES = 1
 NO = 0
@@ -29,44 +29,36 @@ class Round:
         return [house for house in self.rows if house not in self.said]
 
 
-class Teller:
+class Teller(Node):
     """A teller; beside what is told, rounds has what is asked round, yeses the houses of what is decided yes.
 
-    Noes has what is decided no, dones the houses that said done; blown is as in a House.
+    Noes has what is decided no, dones the pairs (deal, house) of which done was said.
     """
 
     def __init__(self, disk):
-        want_disk(disk)
-        self.disk = disk
-        self.life = meant(disk)[0]
-        self.blown = False
-        self.journal = None
-        self.fall()
-        self.rise()
+        super().__init__(disk)
+        self.come_up()
 
     @property
     def asking(self):
         """The lot of the deals that are asked round."""
         return tuple(sorted(self.rounds))
 
-    def fall(self):
-        """The plug is out: all that was in mind is lost."""
-        self.up = False
+    def forget(self):
+        """Nothing is in mind."""
         self.rounds = {}
         self.yeses = {}
         self.noes = {}
         self.dones = {}
 
-    def blow(self):
-        """The plug is out as Out was raised."""
-        self.blown = True
-        self.fall()
+    def begin(self):
+        """A life begins with the yeses that lasted."""
+        for deal, houses in yeses_kept(self.journal.records()):
+            self.yeses[deal] = houses
 
     def cut(self, lands, torn=()):
         """Pulls the plug of its disk."""
-        self.disk.cut(lands, torn)
-        self.blown = False
-        self.fall()
+        self.pull(lands, torn)
 
     def fuse(self, many):
         """Puts a fuse into its disk."""
@@ -74,20 +66,7 @@ class Teller:
 
     def rise(self):
         """Comes up if it is out, and tells whether it did."""
-        if self.up:
-            return False
-        if self.blown:
-            self.cut(())
-        try:
-            self.journal = Journal(self.disk)
-        except Out:
-            self.blow()
-            return False
-        self.up = True
-        self.life = self.journal.life
-        for deal, houses in yeses_kept(self.journal.records()):
-            self.yeses[deal] = houses
-        return True
+        return self.come_up()
 
     def to_house(self, house, word, deal):
         """A letter to a house."""
@@ -173,13 +152,7 @@ class Teller:
         """Takes a letter; the letters that it sends."""
         if not is_letter(letter) or letter[0] != TELLER:
             raise BadValue("letter")
-        if not self.up:
-            return ()
-        try:
-            return tuple(self.reply(letter))
-        except Out:
-            self.blow()
-            return ()
+        return self.send_for(letter)
 
     def give_up(self, deal):
         """Decides no for a deal that is asked round; the letters that it sends."""

@@ -31,6 +31,11 @@ def is_shown(disk, base, records, contents):
     """Whether contents, rows of blocks, have what may lie there, and all choices of them mean it."""
     if len(contents) != disk.many or any(block not in row for row, told in zip(contents, may_lie(disk)) for block in told):
         return False
+    return is_plain_choice(contents, base, records)
+
+
+def is_plain_choice(contents, base, records):
+    """Whether all choices of the contents mean it."""
     return all(is_meant(blocks, base, records) for blocks in product(*contents))
 
 
@@ -153,6 +158,15 @@ class OutlivesTest(SeenTest):
         contents[3] = [(0, 3, 1), (0, 5, 1), (0, 2, 1)][:2]
         disk = filled([row[0] for row in contents])
         self.assertIs(shows_outlives(disk, 0, [[], []], Outlives(contents)), True)
+
+    def test_lives_that_fall_on_the_disk(self):
+        for lives, many in (((1, 2), 2), ((2, 2), 2), ((3, 2), 1), ((0, 3), 0)):
+            disk = filled([(2, 6, 0, 1, 0), (), *[(0, life, k) for k, life in enumerate(lives)], (), (), (), ()])
+            disk.write(5, [1])
+            for wanted in range(3):
+                told = outlives(disk, 0, [[]] * wanted)
+                self.assertIs(bool(told), wanted <= many)
+                self.assertIs(shows_outlives(disk, 0, [[]] * wanted, told), True)
 
     def test_no_other_paper(self):
         disk = Disk(4)
