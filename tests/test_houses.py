@@ -148,6 +148,7 @@ class ModelTest(SeenTest):
                 house = House(2, kind, way, enough(kind, way), house.disk)
                 plain = PlainHouse(2, kind, way, enough(kind, way), plain.disk)
                 self.assertIs(house.up, left == 9)
+                self.assertEqual(state_of(house), plain_state(plain))
                 self.assert_same(house, plain, house.rise(), plain.rise())
                 self.assertTrue(house.up)
                 logs.append(house.log)
@@ -399,6 +400,20 @@ class HouseTest(SeenTest):
             self.assertEqual(log_of(house.disk)[0], wanted)
             self.assertEqual(house.log == (), wanted is not None)
             self.assertEqual(house.meaning(()), 1 if wanted is None else wanted)
+
+    def test_a_house_that_does_not_watch_folds_whatever_its_orders_leave(self):
+        for way in ("in place", "laid by"):
+            house = House(0, COIN, way, (), Disk(64))
+            for deal in range(9):
+                house.take((0, 5, "ask", deal, 0, 0, 1))
+            for word in ("hold", "yes"):
+                for deal in range(9):
+                    house.take((0, 4, word, deal) + ((1, 1) if word == "hold" else ()))
+            # Laid by each of them took the one coin; in place the first one did, and the others were told that there is none.
+            self.assertEqual(sum(1 for record in house.log if record[0] == "yes"), 9)
+            self.assertTrue(house.sweep())
+            self.assertEqual(log_of(house.disk), ((0, ()) if way == "in place" else (None, house.log)))
+            self.assertEqual(house.meaning(()), 0 if way == "in place" else None)
 
     def test_out(self):
         house = House(0, COIN, "in place", (), Disk(16))

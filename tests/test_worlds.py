@@ -289,6 +289,21 @@ class StepTest(SeenTest):
         self.assertEqual([world.step(("rise", node)) for node in (4, 0, 1, 1)], [True, True, True, False])
         self.assertEqual((world.lives(), world.out()), ((2, 2, 2), ()))
 
+    def test_calm_brings_yeses_that_were_lost(self):
+        """Every hand has heard, but a house waits for a yes that is under way no more."""
+        world = World(Program([SAFE], [[[(0, 0)]]]))
+        world.run([("send", 0), ("bring", 0), ("bring", 0), ("send", 0), ("bring", 0), ("bring", 0), ("bring", 0), ("lose", 0), ("bring", 0)])
+        self.assertEqual((world.heard(), world.letters(), world.weave().ended), ((((0,), 1),), (), ()))
+        self.assertEqual((world.order(), world.settled().events[-1]), ((0,), ("yes", 0, 0)))
+        self.assertEqual((world.calm(), world.weave().ended, world.calm()), (1, (0,), 0))
+
+    def test_what_happens_when_all_come_up_is_ahead_of_what_is_brought(self):
+        world = self.world((((0, 0),), ((1, 0),)))
+        world.run([("send", 1), ("bring", 0), ("cut", 1, 0), ("lose", 0)])
+        world.calm()
+        words = [event[:2] for event in world.weave().events]
+        self.assertEqual(words[:5], [("ask", 1), ("answer", 1), ("no", 1), ("ask", 0), ("answer", 0)])
+
     def test_what_it_returns_is_not_its_own(self):
         world = self.world()
         world.run([("send", 0)])
