@@ -17,27 +17,17 @@ from ownseen.plugs import cuts_of, twin
 from ownseen.tellers import Teller
 
 from tests.helper import (
-    NO_NUMBERS, NO_OBJECTS, NO_ROWS, SeenTest, deals_with, great_kind, history_stands, plain_break, plain_lots, plain_table,
-    ready_deals, some_kind, strict,
+    NO_NUMBERS, NO_OBJECTS, NO_ROWS, SeenTest, deals_with, great_kind, history_stands, plain_break, plain_lots, ready_deals,
+    some_kind, strict,
 )
 from tests.plain_disks import PlainDisk
 from tests.plain_nodes import PlainHouse
+from tests.plain_worlds import enough_table
 from tests.test_logs import NO_WAYS, WAYS
 from tests.test_ways import NO_TABLES, some_tables
 
 COIN = Kind(["take"], ["done", "short"], 2, 1, [(0, 0, 1, 0), (1, 0, 0, 0)])
 KINDS = (COIN, shelf(2, 0), purse(2, 1), counter(2), chest(2), line(2, 2), bag(2, 2))
-TABLES = {}
-
-
-def enough(kind, way):
-    """A table that is enough, looked for by the test itself."""
-    if way == "watched":
-        return ()
-    key = (str(kind), way)
-    if key not in TABLES:
-        TABLES[key] = plain_table(kind, way)
-    return TABLES[key]
 
 
 def state_of(house):
@@ -121,7 +111,7 @@ class ModelTest(SeenTest):
             dice = random.Random(seed)
             kind = dice.choice(KINDS) if seed % 3 else some_kind(dice, states=3, asks=2, answers=2)
             way = dice.choice(WAYS)
-            table = enough(kind, way) if dice.random() < 0.6 else dice.choice(some_tables(dice, kind))
+            table = enough_table(kind, way) if dice.random() < 0.6 else dice.choice(some_tables(dice, kind))
             many = dice.choice((4, 6, 8, 12, 16, 24, 24))
             deals = sorted(dice.sample(range(12), dice.randint(1, 12)))
             self.run_both(dice, kind, way, table, many, 45, deals, dice.choice((0.05, 0.2, 0.4)), counts)
@@ -135,7 +125,7 @@ class ModelTest(SeenTest):
         for seed in range(120):
             dice = random.Random(1000 + seed)
             kind, way = dice.choice(KINDS), dice.choice(WAYS)
-            house, plain = self.run_both(dice, kind, way, enough(kind, way), 16, 30, (0, 1, 2), 0.1, {})
+            house, plain = self.run_both(dice, kind, way, enough_table(kind, way), 16, 30, (0, 1, 2), 0.1, {})
             if dice.random() < 0.5:
                 cut = some_cut(dice, plain.disk.waiting())
                 house.disk.cut(*cut)
@@ -145,8 +135,8 @@ class ModelTest(SeenTest):
                 left = dice.choice((1, 2, 9, 9))
                 house.disk.fuse(left)
                 plain.disk.fuse(left)
-                house = House(2, kind, way, enough(kind, way), house.disk)
-                plain = PlainHouse(2, kind, way, enough(kind, way), plain.disk)
+                house = House(2, kind, way, enough_table(kind, way), house.disk)
+                plain = PlainHouse(2, kind, way, enough_table(kind, way), plain.disk)
                 self.assertIs(house.up, left == 9)
                 self.assertEqual(state_of(house), plain_state(plain))
                 self.assert_same(house, plain, house.rise(), plain.rise())
@@ -167,8 +157,8 @@ class ModelTest(SeenTest):
             for swept in (2, 4, 7, 9):
                 for left in range(1, 22):
                     for lands in (0, 1, 2, 3, 5, 7):
-                        house = House(1, kind, way, enough(kind, way), Disk(24))
-                        plain = PlainHouse(1, kind, way, enough(kind, way), PlainDisk(24))
+                        house = House(1, kind, way, enough_table(kind, way), Disk(24))
+                        plain = PlainHouse(1, kind, way, enough_table(kind, way), PlainDisk(24))
                         for one in (house, plain):
                             one.fuse(left)
                         for number, letter in enumerate(letters):
@@ -252,7 +242,7 @@ class AlwaysTest(SeenTest):
             dice = random.Random(seed)
             kind = dice.choice(KINDS)
             way = dice.choice(WAYS)
-            house = House(0, kind, way, enough(kind, way), Disk(dice.choice((16, 40, 64))))
+            house = House(0, kind, way, enough_table(kind, way), Disk(dice.choice((16, 40, 64))))
             askers = [Asker(deal, [dice.randrange(len(kind.asks)) for _ in range(dice.randint(1, 3))]) for deal in range(dice.randint(2, 6))]
             events, late = [], []
             for _ in range(80):
