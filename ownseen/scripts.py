@@ -2,24 +2,22 @@
 
 from ownseen.checks import is_row, is_within
 from ownseen.errors import BadScript, BadText
-from ownseen.guards import MOST_HOUSES
-from ownseen.letters import TELLER
 from ownseen.texts import Reader
 
 MOST_SCRIPT_STEPS = 400
 
-# For each word the bounds of the integers behind it.
+# For each word the bounds of the integers behind it: hands and houses are 0 to 3, nodes 0 to 4, deals 0 to 7.
 BOUNDS = {
     "send": ((0, 3),),
     "bring": ((0, None),),
     "lose": ((0, None),),
     "twice": ((0, None),),
-    "cut": ((0, TELLER), (0, None)),
-    "fuse": ((0, TELLER), (0, None)),
-    "rise": ((0, TELLER),),
-    "drop": ((0, MOST_HOUSES - 1), (0, 7)),
-    "again": ((0, TELLER),),
-    "sweep": ((0, MOST_HOUSES - 1),),
+    "cut": ((0, 4), (0, None)),
+    "fuse": ((0, 4), (0, None)),
+    "rise": ((0, 4),),
+    "drop": ((0, 3), (0, 7)),
+    "again": ((0, 4),),
+    "sweep": ((0, 3),),
     "quit": ((0, 7),),
 }
 

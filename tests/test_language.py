@@ -291,6 +291,8 @@ class LanguageTest(unittest.TestCase):
                 if isinstance(node, ast.Assign):
                     inner = [told for told in ast.walk(node.value) if isinstance(told, (ast.List, ast.Dict))]
                     self.assertFalse([told for told in inner if told is not node.value], (name, node.lineno))
+                    names = [told for told in ast.walk(node.value) if isinstance(told, (ast.Name, ast.BinOp, ast.Call))]
+                    self.assertEqual(names, [], (name, node.lineno))
 
     def test_what_is_iterated_at_once(self):
         for name, node, parents in nodes(ast.Call):
